@@ -255,7 +255,7 @@ class Nearest(unittest.TestCase):
         for up in (0, 20, -20):
             shifted = tuple(pt(x, y + up) for x, y in map(xy, sideways))
             self.told(shifted, pt(5, Fraction(9, 2) + up), pt(5, 3 + up), (9, 4))
-        # A corner at (-1, 2) and one at (2, -1), both 17 off, squared: the lesser x counts, though its y is the greater one.
+        # The corners (-1, 2) and (2, -1) are as near: the lesser x counts, though its y is the greater one.
         notch = pts((-9, -9), (2, -9), (2, -1), (-1, -1), (-1, 2), (-9, 2))
         self.told(notch, pt(3, 3), pt(-1, 2), (17, 1))
 
