@@ -11,6 +11,35 @@ def is_whole(thing):
     return isinstance(thing, int) and not isinstance(thing, bool)
 
 
+def is_number(thing, many):
+    """Whether this is the number of one of so many things, counted from 0."""
+    return is_whole(thing) and 0 <= thing < many
+
+
+def is_tuple(thing, fewest, most):
+    """Whether this is a tuple of so many parts, whatever they are."""
+    return isinstance(thing, tuple) and fewest <= len(thing) <= most
+
+
+def is_rising(things):
+    """Whether each of these numbers or texts is greater than the one ahead of it."""
+    return all(low < high for low, high in zip(things, things[1:]))
+
+
+def in_order(things, compare):
+    """A new list of the things, rising as compare says: 1, 0 or -1, as order tells it of fractions.
+
+    Python's own sorting goes by the tuples' parts, which is neither the fractions' order nor the points'.
+    """
+    rows = []
+    for thing in things:
+        at = len(rows)
+        while at > 0 and compare(thing, rows[at - 1]) < 0:
+            at -= 1
+        rows.insert(at, thing)
+    return rows
+
+
 def is_word(thing):
     """Whether this is a text of one to eight small letters."""
     if not isinstance(thing, str) or not 1 <= len(thing) <= LONGEST_WORD:
@@ -27,7 +56,7 @@ def common_divisor(top, bottom):
 
 def is_fraction(thing):
     """Whether this is (top, bottom), bottom above 0, in least terms."""
-    if not isinstance(thing, tuple) or len(thing) != 2:
+    if not is_tuple(thing, 2, 2):
         return False
     top, bottom = thing
     if not is_whole(top) or not is_whole(bottom) or bottom < 1:

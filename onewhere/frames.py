@@ -1,7 +1,8 @@
 """Maps that lead points, and the frames in which points are told ([20], [21])."""
 
 from onewhere.errors import NoFrame, NoFrames, NoMap
-from onewhere.exact import ONE, ZERO, amount, is_fraction, is_word, minus, order, over, plus, times
+from onewhere.exact import ONE, ZERO, amount, is_fraction, is_rising, is_tuple, is_word
+from onewhere.exact import minus, order, over, plus, times
 from onewhere.points import check_point
 
 GROUND = "ground"
@@ -17,7 +18,7 @@ def stretch(way):
 
 def is_map(thing):
     """Whether this is a tuple of six fractions, a d not b c."""
-    if not isinstance(thing, tuple) or len(thing) != 6:
+    if not is_tuple(thing, 6, 6):
         return False
     return all(is_fraction(part) for part in thing) and stretch(thing) != ZERO
 
@@ -93,7 +94,7 @@ def kept(way):
 
 def is_frame(thing):
     """Whether this is (name, other, map), whatever the other frames are."""
-    if not isinstance(thing, tuple) or len(thing) != 3:
+    if not is_tuple(thing, 3, 3):
         return False
     name, other, way = thing
     return is_word(name) and name != GROUND and is_word(other) and is_map(way)
@@ -109,14 +110,11 @@ def comes_to_ground(others, name):
 
 def are_frames(thing):
     """Whether these are frames: each told by another one or the ground, and so by the ground at last."""
-    if not isinstance(thing, tuple) or len(thing) > MOST_FRAMES:
-        return False
-    if not all(is_frame(part) for part in thing):
+    if not is_tuple(thing, 0, MOST_FRAMES) or not all(is_frame(part) for part in thing):
         return False
     names = [name for name, other, way in thing]
     others = {name: other for name, other, way in thing}
-    is_rising = all(low < high for low, high in zip(names, names[1:]))
-    return is_rising and all(comes_to_ground(others, name) for name in names)
+    return is_rising(names) and all(comes_to_ground(others, name) for name in names)
 
 
 def check_frames(thing):

@@ -1,17 +1,39 @@
 """Points, the turn that three of them make, and how far two are apart ([10], [11])."""
 
-from onewhere.errors import NoPoint
-from onewhere.exact import amount, is_fraction, minus, order, plus, sign, times
+from onewhere.errors import NoPoint, NotThere
+from onewhere.exact import ZERO, amount, is_fraction, is_tuple, minus, order, plus, sign, times
+
+LAND_SIDE = 64
 
 
 def is_point(thing):
     """Whether this is a tuple (x, y) of fractions."""
-    return isinstance(thing, tuple) and len(thing) == 2 and is_fraction(thing[0]) and is_fraction(thing[1])
+    return is_tuple(thing, 2, 2) and is_fraction(thing[0]) and is_fraction(thing[1])
 
 
 def check_point(thing):
     if not is_point(thing):
         raise NoPoint("this is no point: a tuple (x, y) of fractions in least terms")
+
+
+def check_points(one, other):
+    check_point(one)
+    check_point(other)
+
+
+def in_land(point):
+    """Whether a point is one of the land: x and y from 0 on and below its side."""
+    return all(order(ZERO, along) <= 0 and order(along, (LAND_SIDE, 1)) < 0 for along in point)
+
+
+def is_land_point(thing):
+    return is_point(thing) and in_land(thing)
+
+
+def check_land_point(thing):
+    check_point(thing)
+    if not in_land(thing):
+        raise NotThere("this point is none of the land: x and y from 0 on and below 64")
 
 
 def over_one_bottom(point):
@@ -47,35 +69,46 @@ def squared_apart(one, other):
     return plus(times(right, right), times(up, up))
 
 
+def part_of_way(begin, end, share):
+    """The point after a share of the straight way from one point to another one."""
+    x, y = begin
+    right = times(share, minus(end[0], x))
+    up = times(share, minus(end[1], y))
+    return plus(x, right), plus(y, up)
+
+
 def amounts_apart(one, other):
-    """How far two points are apart along each axis; NoPoint of what is none."""
-    check_point(one)
-    check_point(other)
+    """How far two points that are known to be points are apart along each axis."""
     return amount(minus(one[0], other[0])), amount(minus(one[1], other[1]))
+
+
+def street_apart(one, other):
+    """How far two points that are known to be points are apart, along both axes together."""
+    right, up = amounts_apart(one, other)
+    return plus(right, up)
 
 
 def turn(one, two, three):
     """1, -1 or 0, as going from one over two to three one turns to the left, to the right or neither."""
-    check_point(one)
-    check_point(two)
+    check_points(one, two)
     check_point(three)
     return turned(one, two, three)
 
 
 def squared(one, other):
     """How far two points are apart, squared."""
-    check_point(one)
-    check_point(other)
+    check_points(one, other)
     return squared_apart(one, other)
 
 
 def streetwise(one, other):
     """How far two points are apart, along both axes together."""
-    right, up = amounts_apart(one, other)
-    return plus(right, up)
+    check_points(one, other)
+    return street_apart(one, other)
 
 
 def boxwise(one, other):
     """How far two points are apart, along the axis where it is more."""
+    check_points(one, other)
     right, up = amounts_apart(one, other)
     return right if order(right, up) > 0 else up

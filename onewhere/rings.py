@@ -1,8 +1,8 @@
 """Rings: their area and sense, and how a point lies to them ([30], [31])."""
 
 from onewhere.errors import NoRing
-from onewhere.exact import HALF, ONE, ZERO, amount, minus, order, over, plus, sign, times
-from onewhere.points import check_point, is_point, point_order, squared_apart, turned
+from onewhere.exact import HALF, ONE, ZERO, amount, is_tuple, minus, order, over, plus, sign, times
+from onewhere.points import check_point, is_point, part_of_way, point_order, squared_apart, turned
 
 FEWEST_CORNERS = 3
 MOST_CORNERS = 12
@@ -53,9 +53,7 @@ def keeps_clear_of_itself(corners):
 
 def is_ring(thing):
     """Whether this is a tuple of three to twelve corners whose sides keep clear of one another."""
-    if not isinstance(thing, tuple) or not FEWEST_CORNERS <= len(thing) <= MOST_CORNERS:
-        return False
-    if not all(is_point(corner) for corner in thing):
+    if not is_tuple(thing, FEWEST_CORNERS, MOST_CORNERS) or not all(is_point(corner) for corner in thing):
         return False
     return bends_at_each_corner(thing) and keeps_clear_of_itself(thing)
 
@@ -102,6 +100,14 @@ def rounds(ring, point):
     return count
 
 
+def place(ring, point):
+    """Where a point lies to a ring: "in", "on" or "out"; both are known to be such."""
+    count = rounds(ring, point)
+    if count is None:
+        return "on"
+    return "in" if count else "out"
+
+
 def wound(ring, point):
     """How often the ring goes round the point, to the left counted 1, to the right -1; None on the rim."""
     check_ring(ring)
@@ -111,10 +117,9 @@ def wound(ring, point):
 
 def lies(ring, point):
     """Where the point lies to the ring: "in", "on" or "out"."""
-    count = wound(ring, point)
-    if count is None:
-        return "on"
-    return "in" if count else "out"
+    check_ring(ring)
+    check_point(point)
+    return place(ring, point)
 
 
 def nearest_on_side(side, point):
@@ -128,7 +133,7 @@ def nearest_on_side(side, point):
         return one
     if order(share, ONE) >= 0:
         return other
-    return plus(one[0], times(share, right)), plus(one[1], times(share, up))
+    return part_of_way(one, other, share)
 
 
 def comes_ahead(found, best):

@@ -5,9 +5,12 @@ import inspect
 import itertools
 import unittest
 
-from onewhere import errors, frames, points, rings
-from onewhere.errors import NoFrame, NoFrames, NoMap, NoPoint, NoRing
-from tests.things import ANYTHING, BIG, OUTLANDISH, pt, pts, way
+from onewhere import errors, frames, points, rings, routes, sayings, tiles, webs
+from onewhere.errors import (
+    NoClosed, NoDepth, NoFrame, NoFrames, NoMap, NoPoint, NoPoints, NoRing, NoRoad, NoSpot, NoTile, NoTiles, NotThere,
+    NoWeb,
+)
+from tests.things import ANYTHING, BIG, OUTLANDISH, fr, pt, pts, way
 
 POINT = (pt(1, "1/2"), NoPoint)
 MAP = (way(0, -1, 1, 0, 3, "1/2"), NoMap)
@@ -15,6 +18,15 @@ FRAMES = ((("inner", "outer", way(2, 1, 0, 1, 0, 0)), ("outer", "ground", way(1,
 ONE = ("inner", NoFrame)
 OTHER = ("ground", NoFrame)
 RING = (pts((0, 0), (4, 0), (4, 4), (1, 3)), NoRing)
+CODE = ("0123", NoTile)
+DEPTH = (3, NoDepth)
+CODES = (("01", "02", "1"), NoTiles)
+WEB = ((pts((0, 0), (8, 0), (8, 8)), ((0, 1, (), 2), (1, 2, pts((9, 9)), 1), (2, 0, (), 2))), NoWeb)
+ROAD = (2, NoRoad)
+START = ((0, fr("7/2")), NoSpot)
+GOAL = ((2, fr(5)), NoSpot)
+CLOSED = ((1,), NoClosed)
+LEGS = (((0, fr("7/2"), fr(0)), (2, fr(16), fr(5))), None)
 
 # Each function with its arguments by the names told: something good, and the refusal of what is not.
 REFUSING = (
@@ -33,8 +45,36 @@ REFUSING = (
     (rings.lies, {"ring": RING, "point": POINT}),
     (rings.wound, {"ring": RING, "point": POINT}),
     (rings.nearest, {"ring": RING, "point": POINT}),
+    (sayings.held, {"ring": RING, "other": (pts((3, 3), (9, 9), (8, 9)), NoRing)}),
+    (sayings.hull, {"points": (RING[0] + pts((2, 1)), NoPoints)}),
+    (tiles.box, {"code": CODE}),
+    (tiles.tile_of, {"point": POINT, "depth": DEPTH}),
+    (tiles.neighbours, {"code": CODE}),
+    (tiles.merged, {"codes": CODES}),
+    (tiles.common, {"codes": CODES, "other": (("0", "13"), NoTiles)}),
+    (tiles.without, {"codes": CODES, "other": (("012", "2"), NoTiles)}),
+    (tiles.cover, {"ring": RING, "depth": DEPTH}),
+    (webs.long_of, {"web": WEB, "road": ROAD}),
+    (webs.point_at, {"web": WEB, "spot": GOAL}),
+    (webs.nearest_spot, {"web": WEB, "point": POINT}),
+    (routes.least, {"web": WEB, "start": START, "goal": GOAL, "closed": CLOSED}),
+    (routes.route, {"web": WEB, "start": START, "goal": GOAL, "closed": CLOSED}),
+    (routes.prices, {"web": WEB, "start": START, "closed": CLOSED}),
+    (routes.is_route, {"web": WEB, "start": START, "goal": GOAL, "thing": LEGS, "closed": CLOSED}),
+    (routes.turns, {"web": WEB, "start": START, "goal": GOAL, "thing": LEGS, "closed": CLOSED}),
 )
-OF_ANYTHING = ((points.is_point, POINT[0]), (frames.are_frames, FRAMES[0]), (rings.is_ring, RING[0]))
+OF_ANYTHING = (
+    (points.is_point, POINT[0]), (frames.are_frames, FRAMES[0]), (rings.is_ring, RING[0]), (webs.is_web, WEB[0]),
+)
+TOLD = {
+    points: "is_point turn squared streetwise boxwise",
+    frames: "led joined back kept are_frames between told_in",
+    rings: "is_ring area sense lies wound nearest",
+    sayings: "held hull",
+    tiles: "box tile_of neighbours merged common without cover",
+    webs: "is_web long_of point_at nearest_spot",
+    routes: "least route prices is_route turns",
+}
 
 # Nearly right, each in one thing only: truths, lists, terms that are not the least.
 NEARLY = {
@@ -46,13 +86,33 @@ NEARLY = {
     NoFrame: ["other", "Inner", "", "inner ", "grounds", ["inner"], ("inner",), FRAMES[0][0], True, 0],
     NoRing: [list(RING[0]), RING[0][:2], RING[0] + RING[0], RING[0][:2] + RING[0][:1:-1] + (pt(2, 0),), POINT[0],
              pts((0, 0), (1, 1), (2, 2)), pts((0, 0), (4, 4), (4, 0), (0, 4)), MAP[0]],
+    NoPoints: [list(RING[0]), RING[0] * 4, (RING[0],), RING[0] + (((2, 2), (0, 1)),), (), POINT[0], ((True, 1),) * 2],
+    NoTile: ["0" * 10, "4", "01 ", ("0",), ["0", "1"], 0, True, "-"],
+    NoDepth: [-1, 10, True, False, "3", (3,), [3], None],
+    NoTiles: [list(CODES[0]), CODES[0][::-1], CODES[0] + ("1",), CODES[0] + ("13",), "01", ("0", 1), ("", "0")],
+    NoWeb: [list(WEB[0]), WEB[0][::-1], WEB[0][:1], (WEB[0][0], ((0, 0, (), 2),)), (WEB[0][0], ((0, 1, (), True),)),
+            ((), ()), (WEB[0][0], ((0, True, (), 2),)), (WEB[0][0], ((0, 1, [], 2),))],
+    NoRoad: [3, -1, True, False, "0", (0,), None, GOAL[0]],
+    NoSpot: [(3, fr(0)), (2, fr(17)), (2, fr(-1)), (True, fr(5)), [2, fr(5)], (2, (10, 2)), (2, 5), (2, fr(5), fr(5)),
+             (2, (5, True))],
+    NoClosed: [[1], (1, 0), (1, 1), (3,), (-1,), (True,), 1, (0, 2, 1), None],
 }
+
+
+def in_order_of_looking(arguments):
+    """The names of the arguments as they are looked at: closed behind the web, the others from the left."""
+    names = [name for name in arguments if name != "closed"]
+    return names[:1] + ["closed"] + names[1:] if "closed" in arguments else names
 
 
 def is_so(refusal, thing):
     """Whether a thing out of the common lists happens to be nothing to refuse."""
-    if refusal is NoFrames:
+    if refusal in (NoFrames, NoTiles, NoClosed):
         return thing == ()
+    if refusal in (NoDepth, NoRoad):
+        return type(thing) is int and thing in (0, 1)
+    if refusal is NoTile:
+        return thing == ""
     return refusal is NoFrame and isinstance(thing, str) and thing in ("ground", "inner", "outer")
 
 
@@ -61,67 +121,94 @@ def wrong_things(refusal):
     return NEARLY[refusal] + wild
 
 
+def good_ones(arguments):
+    return {name: worth for name, (worth, _) in arguments.items()}
+
+
 class Asking(unittest.TestCase):
     def refused(self, refusal, ask, handed):
         with self.assertRaises(errors.WhereError) as told:
-            ask(*handed)
+            ask(**handed)
         self.assertIs(type(told.exception), refusal)
         self.assertTrue(str(told.exception))
 
     def test_every_function_of_the_interface_is_here(self):
-        told = {
-            points: "is_point turn squared streetwise boxwise",
-            frames: "led joined back kept are_frames between told_in",
-            rings: "is_ring area sense lies wound nearest",
-        }
         asked = [ask for ask, _ in REFUSING] + [ask for ask, _ in OF_ANYTHING]
-        for module, names in told.items():
-            for name in names.split():
-                self.assertIn(getattr(module, name), asked)
+        names = [(module, name) for module, row in TOLD.items() for name in row.split()]
+        self.assertEqual(len(names), len(asked))
+        for module, name in names:
+            self.assertIn(getattr(module, name), asked)
 
     def test_the_arguments_are_those_told(self):
         for ask, arguments in REFUSING:
-            self.assertEqual(list(inspect.signature(ask).parameters), list(arguments))
+            told = inspect.signature(ask).parameters
+            self.assertEqual(list(told), list(arguments))
+            for name, parameter in told.items():
+                by_name = name == "closed"
+                self.assertIs(parameter.kind is parameter.KEYWORD_ONLY, by_name)
+                self.assertEqual(parameter.default, () if by_name else parameter.empty)
         for ask, _ in OF_ANYTHING:
             self.assertEqual(list(inspect.signature(ask).parameters), ["thing"])
 
     def test_by_place_and_by_name(self):
         for ask, arguments in REFUSING:
-            good = {name: worth for name, (worth, _) in arguments.items()}
-            answer = ask(*good.values())
-            for many in range(len(good) + 1):
+            good = good_ones(arguments)
+            answer = ask(**good)
+            for many in range(len(good) + 1 - ("closed" in good)):
                 behind = dict(list(good.items())[many:][::-1])
                 self.assertEqual(ask(*list(good.values())[:many], **behind), answer)
         for ask, good in OF_ANYTHING:
             self.assertIs(ask(good), True)
             self.assertIs(ask(thing=good), True)
 
+    def test_closed_left_out_is_none_closed(self):
+        for ask, arguments in REFUSING:
+            good = good_ones(arguments)
+            if "closed" in good:
+                open_ways = {name: worth for name, worth in good.items() if name != "closed"}
+                self.assertEqual(ask(**open_ways), ask(**open_ways, closed=()))
+                with self.assertRaises(TypeError):
+                    ask(*good.values())
+
     def test_asked_again(self):
         for ask, arguments in REFUSING:
-            good = [worth for worth, _ in arguments.values()]
-            answer = ask(*good)
+            good = good_ones(arguments)
+            answer = ask(**good)
             with self.assertRaises(errors.WhereError):
-                ask(*[None for _ in good])
-            self.assertEqual(ask(*good), answer)
-            self.assertEqual(ask(*copy.deepcopy(good)), answer)
+                ask(**{name: None for name in good})
+            self.assertEqual(ask(**good), answer)
+            self.assertEqual(ask(**copy.deepcopy(good)), answer)
+
+    def test_a_list_that_is_told_is_the_askers_own(self):
+        for ask, arguments in REFUSING:
+            answer = ask(**good_ones(arguments))
+            if isinstance(answer, list):
+                before = list(answer)
+                answer.append("more")
+                answer.reverse()
+                self.assertEqual(ask(**good_ones(arguments)), before)
 
     def test_each_argument_is_refused_by_itself(self):
         for ask, arguments in REFUSING:
-            good = [worth for worth, _ in arguments.values()]
-            for at, (_, refusal) in enumerate(arguments.values()):
-                for thing in wrong_things(refusal):
-                    self.refused(refusal, ask, good[:at] + [thing] + good[at + 1:])
+            for name, (_, refusal) in arguments.items():
+                for thing in wrong_things(refusal) if refusal else ():
+                    self.refused(refusal, ask, {**good_ones(arguments), name: thing})
 
     def test_the_first_wrong_one_is_refused(self):
         for ask, arguments in REFUSING:
-            rows = list(arguments.values())
-            for wrong in itertools.product((False, True), repeat=len(rows)):
+            names = [name for name in in_order_of_looking(arguments) if arguments[name][1]]
+            for wrong in itertools.product((False, True), repeat=len(names)):
                 if True not in wrong:
                     continue
-                first = rows[wrong.index(True)][1]
-                for pick in range(4):
-                    handed = [NEARLY[refusal][pick] if bad else good for (good, refusal), bad in zip(rows, wrong)]
-                    self.refused(first, ask, handed)
+                first = arguments[names[wrong.index(True)]][1]
+                for pick in range(6):
+                    bad = {name: NEARLY[arguments[name][1]][pick] for name, is_bad in zip(names, wrong) if is_bad}
+                    self.refused(first, ask, {**good_ones(arguments), **bad})
+
+    def test_a_point_beyond_the_land_is_refused_behind_what_is_none(self):
+        for depth in (3, None, 10, True):
+            self.refused(NotThere, tiles.tile_of, {"point": pt(64, 0), "depth": depth})
+            self.refused(NoPoint, tiles.tile_of, {"point": ((64, 1), (2, 2)), "depth": depth})
 
     def test_of_anything(self):
         for ask, _ in OF_ANYTHING:
@@ -130,6 +217,18 @@ class Asking(unittest.TestCase):
         self.assertIs(points.is_point(()), False)
         self.assertIs(frames.are_frames(()), True)
         self.assertIs(rings.is_ring(()), False)
+        self.assertIs(webs.is_web(()), False)
+
+    def test_of_anything_as_a_route(self):
+        for thing in [(), *ANYTHING, *OUTLANDISH]:
+            self.assertIs(routes.is_route(WEB[0], START[0], GOAL[0], thing), False)
+            self.assertIsNone(routes.turns(WEB[0], START[0], GOAL[0], thing))
+        # The thing is never refused, whatever it is; the others are.
+        for thing in [None, (), *OUTLANDISH]:
+            for ask in (routes.is_route, routes.turns):
+                handed = {"web": WEB[0], "start": START[0], "goal": GOAL[0], "thing": thing}
+                self.refused(NoSpot, ask, {**handed, "goal": None})
+                self.refused(NoClosed, ask, {**handed, "closed": None})
 
     def test_truths_are_no_whole_numbers(self):
         self.assertIs(points.is_point(((1, 1), (0, 1))), True)
@@ -137,6 +236,15 @@ class Asking(unittest.TestCase):
             self.assertIs(points.is_point(point), False)
             self.assertIs(rings.is_ring((point, pt(5, 0), pt(5, 5))), False)
             self.assertIs(frames.are_frames((("a", "ground", (*point, *way(0, 1, 0, 0))),)), False)
+            self.assertIs(webs.is_web(((point,), ())), False)
+            self.refused(NoPoint, tiles.tile_of, {"point": point, "depth": 1})
+            self.refused(NoPoints, sayings.hull, {"points": (point, pt(5, 0), pt(5, 5))})
+        for depth in (True, False):
+            self.refused(NoDepth, tiles.tile_of, {"point": pt(1, 1), "depth": depth})
+            self.refused(NoDepth, tiles.cover, {"ring": RING[0], "depth": depth})
+            self.refused(NoRoad, webs.long_of, {"web": WEB[0], "road": depth})
+            self.refused(NoSpot, webs.point_at, {"web": WEB[0], "spot": (depth, fr(0))})
+            self.refused(NoClosed, routes.prices, {"web": WEB[0], "start": START[0], "closed": (depth,)})
 
     def test_nothing_handed_in_is_changed(self):
         for ask, _ in OF_ANYTHING:
@@ -148,8 +256,13 @@ class Asking(unittest.TestCase):
             for thing in ANYTHING:
                 if isinstance(thing, (list, dict)):
                     before = copy.deepcopy(thing)
-                    self.refused(list(arguments.values())[0][1], ask, [thing for _ in arguments])
+                    self.refused(list(arguments.values())[0][1], ask, {name: thing for name in arguments})
                     self.assertEqual(thing, before)
+        for ask in (routes.is_route, routes.turns):
+            for thing in ANYTHING:
+                before = copy.deepcopy(thing)
+                ask(WEB[0], START[0], GOAL[0], thing)
+                self.assertEqual(thing, before)
 
     def test_numbers_of_30_figures_everywhere(self):
         big = (BIG, 1)

@@ -1,4 +1,4 @@
-"""[3], as far as it speaks of points, frames and rings: what holds in every frame, and what in those told."""
+"""[3], as far as it speaks of points, frames, shapes, tiles, roads and routes."""
 
 import random
 import unittest
@@ -7,7 +7,12 @@ from fractions import Fraction
 from onewhere.frames import between, kept, led, told_in
 from onewhere.points import boxwise, squared, streetwise, turn
 from onewhere.rings import area, is_ring, lies, nearest, sense, wound
-from tests.things import pt, pts, val, way
+from onewhere.routes import is_route, least, prices, route
+from onewhere.sayings import held, hull
+from onewhere.tiles import box, cover, merged, tile_of
+from onewhere.webs import long_of, nearest_spot, point_at
+from tests.roads import long_of_legs, questions
+from tests.things import fr, pt, pts, val, way, xy
 
 FRAMES = (
     ("mirror", "ground", way(-1, 0, 0, 1, 9, 0)),
@@ -114,3 +119,137 @@ class InEveryFrame(unittest.TestCase):
             self.assertLessEqual(box ** 2, square)
             self.assertLessEqual(square, street ** 2)
             self.assertEqual(square, box ** 2 + (street - box) ** 2)
+
+
+# How each of these lies to the square with corners at 0 and 4.
+SQUARE = RINGS[0]
+LYING = (
+    ("same", SQUARE[1:] + SQUARE[:1]),
+    ("in", pts((-1, -1), (9, -1), (9, 9), (-1, 9))),
+    ("in", pts((0, 0), (9, 0), (9, 9), (0, 9))),
+    ("holds", pts((1, 1), (3, 1), (2, 3))),
+    ("holds", pts((0, 0), (4, 0), (4, 4))),
+    ("apart", pts((5, 0), (9, 0), (9, 4))),
+    ("apart", pts((4, 5), (9, 9), (4, 9))),
+    ("touch", pts((4, 4), (6, 5), (5, 6))),
+    ("touch", pts((4, 1), (4, 9), (9, 9))),
+    ("touch", pts((6, 2), (2, 6), (6, 6))),
+    ("cross", pts((2, 2), (6, 2), (6, 6), (2, 6))),
+    ("cross", pts((0, 0), (4, 4), (6, 0))),
+    ("cross", pts((-1, 1), (2, -3), (2, 9))),
+)
+
+
+class ShapesInEveryFrame(unittest.TestCase):
+    def test_how_two_rings_lie_stays(self):
+        for word, other in LYING:
+            self.assertEqual(held(SQUARE, other), word)
+            for name in NAMES:
+                self.assertEqual(held(moved(SQUARE, name), moved(other, name)), word)
+
+    def test_each_ring_with_each_ring(self):
+        rings = [*RINGS, *(other for _, other in LYING)]
+        for name in NAMES[1:]:
+            there = [moved(ring, name) for ring in rings]
+            for at in range(len(rings)):
+                other = (at * 7 + 3) % len(rings)
+                self.assertEqual(held(there[at], there[other]), held(rings[at], rings[other]))
+
+    def test_the_hull_has_the_same_corners(self):
+        for ring in RINGS:
+            for name in NAMES:
+                self.assertEqual(set(hull(moved(ring, name))), set(moved(hull(ring), name)))
+
+    def test_what_is_in_a_ring_has_its_points_in_it(self):
+        for word, other in LYING:
+            for point in POINTS:
+                here, there = lies(SQUARE, point), lies(other, point)
+                if word == "same":
+                    self.assertEqual(here, there)
+                if word == "in" and here != "out":
+                    self.assertIn(there, ("in", "on"))
+                if word == "holds" and there != "out":
+                    self.assertIn(here, ("in", "on"))
+                if word == "apart":
+                    self.assertIn("out", (here, there))
+                if word == "touch":
+                    self.assertNotEqual((here, there), ("in", "in"))
+
+
+def tiles_area(codes):
+    return sum((val(box(code)[2]) ** 2 for code in codes), Fraction(0))
+
+
+class Tiles(unittest.TestCase):
+    def test_a_tile_has_each_point_that_led_to_it(self):
+        for point in POINTS:
+            x, y = xy(point)
+            if min(x, y) < 0:
+                continue
+            for depth in range(10):
+                left, low, side = map(val, box(tile_of(point, depth)))
+                self.assertTrue(left <= x < left + side and low <= y < low + side)
+                middle = pt(left + side / 2, low + side / 2)
+                self.assertLessEqual(val(boxwise(point, middle)), side / 2)
+                self.assertEqual(tile_of(middle, depth), tile_of(point, depth))
+
+    def test_a_rings_area_lies_between_those_of_its_tiles(self):
+        rings = [
+            pts((3, 5), (40, 8), (30, 33), (34, 60), (8, 44)),
+            pts((0, 0), (32, 0), (32, 32), (0, 32)),
+            pts((8, 8), (24, 8), (24, 24), (40, 24), (40, 8), (56, 8), (56, 56), (8, 56)),
+            pts((1, 1), (2, 1), (1, 2)),
+            pts((0, 0), ("127/2", 1), ("1/3", 63)),
+        ]
+        for ring in rings:
+            least_so_far, most_so_far = Fraction(0), Fraction(64 * 64)
+            for depth in range(5):
+                within, met = (tiles_area(codes) for codes in cover(ring, depth))
+                self.assertLessEqual(within, val(area(ring)))
+                self.assertLessEqual(val(area(ring)), met)
+                # What is known at one depth is known at the next one.
+                self.assertLessEqual(least_so_far, within)
+                self.assertLessEqual(met, most_so_far)
+                least_so_far, most_so_far = within, met
+
+    def test_merging_keeps_the_area(self):
+        for depth in range(5):
+            for codes in cover(pts((3, 5), (40, 8), (30, 33), (34, 60), (8, 44)), depth):
+                self.assertEqual(tiles_area(merged(codes)), tiles_area(codes))
+
+
+class Roads(unittest.TestCase):
+    def test_a_spots_point_leads_to_a_spot_there(self):
+        for web, start, goal, _ in questions(65, 60):
+            for spot in (start, goal):
+                off, road, far = nearest_spot(web, point_at(web, spot))
+                self.assertEqual(off, (0, 1))
+                self.assertEqual(point_at(web, (road, far)), point_at(web, spot))
+
+    def test_the_long_of_the_legs_is_the_least(self):
+        for web, start, goal, closed in questions(66, 150):
+            legs = route(web, start, goal, closed=closed)
+            least_long = least(web, start, goal, closed=closed)
+            if legs is None:
+                self.assertIsNone(least_long)
+            else:
+                self.assertEqual(fr(long_of_legs(legs)), least_long)
+                self.assertIs(is_route(web, start, goal, legs, closed=closed), True)
+
+    def test_no_price_shows_a_lesser_one(self):
+        for web, start, goal, closed in questions(67, 60):
+            least_long = least(web, start, goal, closed=closed)
+            price = prices(web, start, closed=closed)
+            for number, (one, other, _, _) in enumerate(web[1]):
+                for crossing, far in ((one, (0, 1)), (other, long_of(web, number))):
+                    rest = least(web, (number, far), goal, closed=closed)
+                    if price[crossing] is not None and rest is not None:
+                        self.assertLessEqual(val(least_long), val(price[crossing]) + val(rest))
+
+    def test_no_road_makes_a_price_less(self):
+        for web, start, _, closed in questions(68, 100):
+            price = [None if told is None else val(told) for told in prices(web, start, closed=closed)]
+            for number, (one, other, _, ways) in enumerate(web[1]):
+                for begin, end in ((one, other), (other, one))[:ways]:
+                    if number not in closed and price[begin] is not None:
+                        self.assertLessEqual(price[end], price[begin] + val(long_of(web, number)))

@@ -5,7 +5,8 @@ import unittest
 from fractions import Fraction
 
 from onewhere.rings import area, is_ring, lies, nearest, sense, wound
-from tests.things import ANYTHING, BIG, OUTLANDISH, pt, pts, val, xy
+from tests.ground import segments_meet
+from tests.things import ANYTHING, BIG, OUTLANDISH, either_way_from_each_corner, pt, pts, val, xy
 
 SQUARE = pts((0, 0), (4, 0), (4, 4), (0, 4))
 # Its mouth is open upwards.
@@ -17,30 +18,9 @@ SNAIL = pts((0, 0), (7, 0), (7, 7), (1, 7), (1, 2), (5, 2), (5, 5), (3, 5), (3, 
 RINGS = (SQUARE, CUP, STAR, SLIVER, SNAIL, pts((0, 0), (1, 0), (0, 1)))
 
 
-def either_way_from_each_corner(ring):
-    """(ring, way about): the same points, 1 as the ring itself goes, -1 the other way about."""
-    for at in range(len(ring)):
-        turned = ring[at:] + ring[:at]
-        yield turned, 1
-        yield turned[::-1], -1
-
-
 def polygon(many):
     """A ring of so many corners on a parabola, none three of them on a line."""
     return tuple(pt(at, at * at) for at in range(many))
-
-
-def segments_meet(a, b, c, d):
-    """Whether two segments of Fractions have a point in common, by solving for it."""
-    ux, uy, vx, vy = b[0] - a[0], b[1] - a[1], d[0] - c[0], d[1] - c[1]
-    wx, wy = c[0] - a[0], c[1] - a[1]
-    cross = ux * vy - uy * vx
-    if cross:
-        s, t = (wx * vy - wy * vx) / cross, (wx * uy - wy * ux) / cross
-        return 0 <= s <= 1 and 0 <= t <= 1
-    if wx * uy - wy * ux:
-        return False
-    return max(min(a, b), min(c, d)) <= min(max(a, b), max(c, d))
 
 
 def is_ring_by_the_words(corners):

@@ -63,6 +63,14 @@ def xy(point):
     return val(x), val(y)
 
 
+def either_way_from_each_corner(ring):
+    """(ring, way about): the same points, 1 as the ring itself goes, -1 the other way about."""
+    for at in range(len(ring)):
+        turned = ring[at:] + ring[:at]
+        yield turned, 1
+        yield turned[::-1], -1
+
+
 def deep(thing, depth=10):
     """The thing so deep in tuples and lists by turns."""
     for level in range(depth):
