@@ -52,8 +52,8 @@ def cuts(side, others):
 
 
 def middles(points):
-    """The middles between points that stand in their order."""
-    return [half_way(one, other) for one, other in zip(points, points[1:]) if point_order(one, other) != 0]
+    """The middles between each two points behind one another."""
+    return [half_way(one, other) for one, other in zip(points, points[1:])]
 
 
 def rim_places(ring, other):
@@ -81,7 +81,8 @@ def held(ring, other):
         return "in" if "out" in there else "same"
     if "out" not in there:
         return "holds"
-    if "in" in here or "in" in there:
+    # Neither holds the other one: where any ground is in both, the rim of each leads through the other.
+    if "in" in here:
         return "cross"
     return "touch" if rims_meet(ring, other) else "apart"
 

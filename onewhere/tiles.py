@@ -107,7 +107,7 @@ def put_together(codes):
     for code in codes:
         rows.append(code)
         # The last fourth of a tile may make it whole, and that one the next greater one.
-        while len(rows) >= 4 and rows[-4:] == [rows[-1][:-1] + figure for figure in FIGURES]:
+        while rows[-4:] == [rows[-1][:-1] + figure for figure in FIGURES]:
             rows[-4:] = [rows[-1][:-1]]
     return tuple(rows)
 

@@ -19,6 +19,7 @@ METHODS = set(
     "items join keys ljust lower lstrip partition pop remove replace reverse rfind rjust rpartition rsplit rstrip "
     "setdefault split splitlines startswith strip update upper values zfill bit_length add discard sort".split()
 )
+CHANGING = set("append clear extend insert pop remove reverse setdefault update add discard sort".split())
 BARRED_NAMES = set(
     "register mro elements open input version_info with_traceback add_note attrgetter breakpoint builtins compile "
     "copyright credits delattr dir eval exec exit gc getattr globals hasattr help id importlib license locals "
@@ -67,6 +68,16 @@ def local_names(tree):
                 yield node.arg
             elif isinstance(node, ast.Name) and isinstance(node.ctx, ast.Store):
                 yield node.id
+
+
+def with_parents(tree):
+    """(node, the node that it stands in) of all nodes but the uppermost."""
+    return [(node, parent) for parent in ast.walk(tree) for node in ast.iter_child_nodes(parent)]
+
+
+def calls(node, names):
+    """Whether this is a call of one of the builtins with these names."""
+    return isinstance(node, ast.Call) and isinstance(node.func, ast.Name) and node.func.id in names.split()
 
 
 class Language(unittest.TestCase):
@@ -156,6 +167,39 @@ class Language(unittest.TestCase):
             for node in ast.walk(tree):
                 if isinstance(node, ast.Call) and isinstance(node.func, ast.Attribute):
                     self.assertIn(node.func.attr, METHODS | own, f"{path.name}:{node.lineno}")
+
+    def test_iterated_at_once(self):
+        for path, _, tree in trees():
+            for node, parent in with_parents(tree):
+                where = f"{path.name}:{getattr(node, 'lineno', '')}"
+                if isinstance(node, ast.GeneratorExp):
+                    self.assertTrue(calls(parent, "list tuple dict sorted sum min max any all"), where)
+                if calls(node, "zip enumerate reversed range"):
+                    loop = isinstance(parent, (ast.For, ast.comprehension)) and parent.iter is node
+                    self.assertTrue(loop or calls(parent, "list tuple dict sorted sum any all enumerate zip"), where)
+                self.assertFalse(isinstance(node, (ast.Yield, ast.YieldFrom, ast.Starred))
+                                 and not isinstance(parent, (ast.Tuple, ast.List)), where)
+
+    def test_sets_are_only_counted(self):
+        for path, _, tree in trees():
+            for node, parent in with_parents(tree):
+                where = f"{path.name}:{getattr(node, 'lineno', '')}"
+                self.assertNotIsInstance(node, (ast.Set, ast.SetComp), where)
+                if calls(node, "set frozenset"):
+                    self.assertTrue(calls(node, "set") and calls(parent, "len"), where)
+
+    def test_what_a_loop_goes_over_is_not_changed_in_it(self):
+        for path, _, tree in trees():
+            for loop in ast.walk(tree):
+                if not isinstance(loop, ast.For):
+                    continue
+                over = {node.id for node in ast.walk(loop.iter) if isinstance(node, ast.Name)}
+                for node in ast.walk(ast.Module(loop.body, [])):
+                    where = f"{path.name}:{getattr(node, 'lineno', '')}"
+                    if isinstance(node, ast.Subscript) and isinstance(node.ctx, (ast.Store, ast.Del)):
+                        self.assertNotIn(getattr(node.value, "id", None), over, where)
+                    if isinstance(node, ast.Attribute) and node.attr in CHANGING:
+                        self.assertNotIn(getattr(node.value, "id", None), over, where)
 
     def test_words_that_do_not_occur(self):
         for path, text, _ in trees():

@@ -66,6 +66,15 @@ class Held(unittest.TestCase):
         self.lie("in", CUP, (0, 0), (9, 0), (9, 6), (0, 6))
         self.lie("cross", CUP, (1, 5), (8, 5), (8, 1))
 
+    def test_out_in_the_midst_of_a_side_alone(self):
+        # A mouth to the one and to the other side of the middle, so that the middle of the side lies on the rim.
+        for low, high in ((5, 8), (1, 4)):
+            cup = pts((0, 0), (9, 0), (9, 6), (high, 6), (high, 3), (low, 3), (low, 6), (0, 6))
+            self.lie("in", cup, (0, 0), (9, 0), (9, 6), (0, 6))
+            self.lie("touch", cup, (0, 6), (9, 6), (5, 8))
+            self.lie("cross", cup, (0, 6), (9, 6), (high, 2), (low, 2))
+            self.lie("cross", cup, (-1, 6), (10, 6), (10, 5), (-1, 5))
+
     def test_what_has_all_corners_on_the_rim_is_not_held_for_that(self):
         self.lie("touch", CUP, (3, 3), (6, 3), (6, 6), (3, 6))
         self.lie("touch", CUP, (3, 6), (6, 3), (6, 6))
