@@ -1,4 +1,6 @@
-"""What every module needs: whole numbers, words, and fractions reckoned with exactly."""
+"""What every module needs: whole numbers, days, words, and fractions reckoned with exactly."""
+
+from onewhere.errors import NoDay
 
 LONGEST_WORD = 8
 ZERO = (0, 1)
@@ -14,6 +16,16 @@ def is_whole(thing):
 def is_number(thing, many):
     """Whether this is the number of one of so many things, counted from 0."""
     return is_whole(thing) and 0 <= thing < many
+
+
+def is_from_zero(thing):
+    """Whether this is a whole number from 0 on, as days and instants are."""
+    return is_whole(thing) and thing >= 0
+
+
+def check_day(thing):
+    if not is_from_zero(thing):
+        raise NoDay("this is no day: a whole number from 0 on")
 
 
 def is_tuple(thing, fewest, most):
@@ -86,6 +98,11 @@ def times(one, other):
 def over(one, other):
     """The one by the other, which is not 0."""
     return in_least_terms(one[0] * other[1], one[1] * other[0])
+
+
+def middle(one, other):
+    """The fraction half way between two."""
+    return times(plus(one, other), HALF)
 
 
 def amount(fraction):

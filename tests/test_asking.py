@@ -5,12 +5,12 @@ import inspect
 import itertools
 import unittest
 
-from onewhere import errors, frames, points, rings, routes, sayings, tiles, webs
+from onewhere import clocks, errors, frames, points, regions, rings, routes, sayings, streets, tiles, webs
 from onewhere.errors import (
-    NoClosed, NoDepth, NoFrame, NoFrames, NoMap, NoPoint, NoPoints, NoRing, NoRoad, NoSpot, NoTile, NoTiles, NotThere,
-    NoWeb,
+    NoClosed, NoDay, NoDepth, NoFrame, NoFrames, NoInstant, NoMap, NoMoves, NoNumber, NoPoint, NoPoints, NoRegion,
+    NoRing, NoRoad, NoRows, NoSpot, NoStreet, NoTelling, NoTile, NoTiles, NotThere, NoWeb, NoZones,
 )
-from tests.things import ANYTHING, BIG, OUTLANDISH, fr, pt, pts, way
+from tests.things import ANYTHING, BIG, OUTLANDISH, Refusals, fr, pt, pts, way
 
 POINT = (pt(1, "1/2"), NoPoint)
 MAP = (way(0, -1, 1, 0, 3, "1/2"), NoMap)
@@ -27,6 +27,17 @@ START = ((0, fr("7/2")), NoSpot)
 GOAL = ((2, fr(5)), NoSpot)
 CLOSED = ((1,), NoClosed)
 LEGS = (((0, fr("7/2"), fr(0)), (2, fr(16), fr(5))), None)
+ROWS = ((("elm", 2, 1, 9, 2, 0, 7), ("oak", 0, 1, 4, 1, 3, 9), ("oak", 2, 5, 6, 1, 3, 9)), NoRows)
+STREET = ("oak", NoStreet)
+NUMBER = (5, NoNumber)
+DAY = (4, NoDay)
+LATER_DAY = (6, NoDay)
+MOVES = (((0, ("0", "12"), "west"), (5, ("02",), "east"), (5, ("3",), "west")), NoMoves)
+REGION = ("west", NoRegion)
+ZONES = ((("east", ((0, -60),)), ("west", ((0, 0), (90, 30), (150, 0)))), NoZones)
+INSTANT = (95, NoInstant)
+TELLING = ((0, 2, 31), NoTelling)
+OTHER_POINT = (pt(40, 1), NoPoint)
 
 # Each function with its arguments by the names told: something good, and the refusal of what is not.
 REFUSING = (
@@ -62,9 +73,24 @@ REFUSING = (
     (routes.prices, {"web": WEB, "start": START, "closed": CLOSED}),
     (routes.is_route, {"web": WEB, "start": START, "goal": GOAL, "thing": LEGS, "closed": CLOSED}),
     (routes.turns, {"web": WEB, "start": START, "goal": GOAL, "thing": LEGS, "closed": CLOSED}),
+    (streets.are_rows, {"web": WEB, "thing": (ROWS[0], None)}),
+    (streets.find, {"web": WEB, "rows": ROWS, "street": STREET, "number": NUMBER, "day": DAY}),
+    (streets.numbers_at, {"web": WEB, "rows": ROWS, "spot": GOAL, "day": DAY}),
+    (streets.later, {"web": WEB, "rows": ROWS, "street": STREET, "number": NUMBER, "day": DAY, "later_day": LATER_DAY}),
+    (regions.region_at, {"moves": MOVES, "point": POINT, "day": DAY}),
+    (regions.ground, {"moves": MOVES, "region": REGION, "day": DAY}),
+    (regions.great, {"moves": MOVES, "region": REGION, "day": DAY}),
+    (regions.regions, {"moves": MOVES, "day": DAY}),
+    (regions.changed, {"moves": MOVES, "day": DAY, "other_day": LATER_DAY}),
+    (regions.rim, {"moves": MOVES, "region": REGION, "day": DAY}),
+    (clocks.shown, {"moves": MOVES, "zones": ZONES, "point": POINT, "instant": INSTANT}),
+    (clocks.instants, {"moves": MOVES, "zones": ZONES, "point": POINT, "telling": TELLING}),
+    (clocks.first_instant, {"moves": MOVES, "zones": ZONES, "point": POINT, "telling": TELLING}),
+    (clocks.across, {"moves": MOVES, "zones": ZONES, "point": POINT, "other": OTHER_POINT, "telling": TELLING}),
 )
 OF_ANYTHING = (
     (points.is_point, POINT[0]), (frames.are_frames, FRAMES[0]), (rings.is_ring, RING[0]), (webs.is_web, WEB[0]),
+    (regions.are_moves, MOVES[0]), (clocks.are_zones, ZONES[0]),
 )
 TOLD = {
     points: "is_point turn squared streetwise boxwise",
@@ -74,6 +100,9 @@ TOLD = {
     tiles: "box tile_of neighbours merged common without cover",
     webs: "is_web long_of point_at nearest_spot",
     routes: "least route prices is_route turns",
+    streets: "are_rows find numbers_at later",
+    regions: "are_moves region_at ground great regions changed rim",
+    clocks: "are_zones shown instants first_instant across",
 }
 
 # Nearly right, each in one thing only: truths, lists, terms that are not the least.
@@ -96,6 +125,20 @@ NEARLY = {
     NoSpot: [(3, fr(0)), (2, fr(17)), (2, fr(-1)), (True, fr(5)), [2, fr(5)], (2, (10, 2)), (2, 5), (2, fr(5), fr(5)),
              (2, (5, True))],
     NoClosed: [[1], (1, 0), (1, 1), (3,), (-1,), (True,), 1, (0, 2, 1), None],
+    NoRows: [list(ROWS[0]), ROWS[0][::-1], ROWS[0] * 2, (("oak", 3, 1, 4, 1, 3, 9),), (("oak", 0, 1, 4, True, 3, 9),),
+             (("oak", 0, 1, 4, 1, 3, 9), ("oak", 2, 4, 6, 1, 3, 9)), (["oak", 0, 1, 4, 1, 3, 9],),
+             (("oak", False, 1, 4, 1, 3, 9),), (("oak", 0, True, 4, 1, 3, 9),), (("oak", 0, 1, 4, 1, False, 9),),
+             (("oak", 0, 1, 1, 1, 0, True),), (("oak", 0, 1, True, 1, 3, 9),)],
+    NoStreet: ["Oak", "", "oak street", ("oak",), ["oak"], 1, True, b"oak"],
+    NoNumber: [True, False, "5", (5,), [5], None, 5.0],
+    NoDay: [-1, True, False, "4", (4,), [4], None, -BIG],
+    NoMoves: [list(MOVES[0]), MOVES[0][::-1], MOVES[0] * 2, ((0, ["0"], "a"),), ((0, (), "a"),), ([0, ("0",), "a"],),
+              ((True, ("0",), "a"),), ((0, ("00000",), "a"),), ((0, ("0",), "A"),)],
+    NoRegion: ["West", "", "west end", ("west",), ["west"], 1, True, b"west"],
+    NoZones: [list(ZONES[0]), ZONES[0][::-1], ZONES[0][:1] * 2, (("a", ((1, 0),)),), (("a", [(0, 0)]),), (("a", ()),),
+              (("a", ((0, True),)),), (("a", ((False, 0),)),), (["a", ((0, 0),)],), (("a", ((0, 901),)),)],
+    NoInstant: [-1, True, False, "95", (95,), [95], None, -BIG],
+    NoTelling: [(0, 24, 0), (0, 0, 60), (0, True, 0), (False, 0, 0), [0, 0, 0], (0, 0), (0, 0, 0, 0), (0, 0, False)],
 }
 
 
@@ -107,8 +150,12 @@ def in_order_of_looking(arguments):
 
 def is_so(refusal, thing):
     """Whether a thing out of the common lists happens to be nothing to refuse."""
-    if refusal in (NoFrames, NoTiles, NoClosed):
+    if refusal in (NoFrames, NoTiles, NoClosed, NoRows, NoMoves, NoZones):
         return thing == ()
+    if refusal in (NoStreet, NoRegion):
+        return isinstance(thing, str) and thing in ("a", "ground")
+    if refusal in (NoDay, NoInstant, NoNumber):
+        return type(thing) is int and (thing >= 0 or refusal is NoNumber)
     if refusal in (NoDepth, NoRoad):
         return type(thing) is int and thing in (0, 1)
     if refusal is NoTile:
@@ -125,13 +172,7 @@ def good_ones(arguments):
     return {name: worth for name, (worth, _) in arguments.items()}
 
 
-class Asking(unittest.TestCase):
-    def refused(self, refusal, ask, handed):
-        with self.assertRaises(errors.WhereError) as told:
-            ask(**handed)
-        self.assertIs(type(told.exception), refusal)
-        self.assertTrue(str(told.exception))
-
+class Asking(Refusals):
     def test_every_function_of_the_interface_is_here(self):
         asked = [ask for ask, _ in REFUSING] + [ask for ask, _ in OF_ANYTHING]
         names = [(module, name) for module, row in TOLD.items() for name in row.split()]
@@ -192,7 +233,7 @@ class Asking(unittest.TestCase):
         for ask, arguments in REFUSING:
             for name, (_, refusal) in arguments.items():
                 for thing in wrong_things(refusal) if refusal else ():
-                    self.refused(refusal, ask, {**good_ones(arguments), name: thing})
+                    self.refused(refusal, ask, **{**good_ones(arguments), name: thing})
 
     def test_the_first_wrong_one_is_refused(self):
         for ask, arguments in REFUSING:
@@ -203,12 +244,21 @@ class Asking(unittest.TestCase):
                 first = arguments[names[wrong.index(True)]][1]
                 for pick in range(6):
                     bad = {name: NEARLY[arguments[name][1]][pick] for name, is_bad in zip(names, wrong) if is_bad}
-                    self.refused(first, ask, {**good_ones(arguments), **bad})
+                    self.refused(first, ask, **{**good_ones(arguments), **bad})
 
     def test_a_point_beyond_the_land_is_refused_behind_what_is_none(self):
-        for depth in (3, None, 10, True):
-            self.refused(NotThere, tiles.tile_of, {"point": pt(64, 0), "depth": depth})
-            self.refused(NoPoint, tiles.tile_of, {"point": ((64, 1), (2, 2)), "depth": depth})
+        for ask, arguments in REFUSING:
+            if ask not in (tiles.tile_of, regions.region_at) and ask.__module__ != "onewhere.clocks":
+                continue
+            names = list(arguments)
+            for name in set(names) & {"point", "other"}:
+                behind = {other: None for other in names[names.index(name) + 1:]}
+                for handed in (good_ones(arguments), {**good_ones(arguments), **behind}):
+                    self.refused(NotThere, ask, **{**handed, name: pt(64, 0)})
+                    self.refused(NoPoint, ask, **{**handed, name: ((64, 1), (2, 2))})
+                for ahead in names[:names.index(name)]:
+                    handed = {**good_ones(arguments), ahead: None, name: pt(64, 0)}
+                    self.refused(arguments[ahead][1], ask, **handed)
 
     def test_of_anything(self):
         for ask, _ in OF_ANYTHING:
@@ -218,6 +268,14 @@ class Asking(unittest.TestCase):
         self.assertIs(frames.are_frames(()), True)
         self.assertIs(rings.is_ring(()), False)
         self.assertIs(webs.is_web(()), False)
+        self.assertIs(regions.are_moves(()), True)
+        self.assertIs(clocks.are_zones(()), True)
+
+    def test_of_anything_as_rows(self):
+        for thing in [*ANYTHING, *OUTLANDISH]:
+            self.assertIs(streets.are_rows(WEB[0], thing), False)
+            self.refused(NoWeb, streets.are_rows, thing, thing)
+        self.assertIs(streets.are_rows(WEB[0], ()), True)
 
     def test_of_anything_as_a_route(self):
         for thing in [(), *ANYTHING, *OUTLANDISH]:
@@ -227,8 +285,8 @@ class Asking(unittest.TestCase):
         for thing in [None, (), *OUTLANDISH]:
             for ask in (routes.is_route, routes.turns):
                 handed = {"web": WEB[0], "start": START[0], "goal": GOAL[0], "thing": thing}
-                self.refused(NoSpot, ask, {**handed, "goal": None})
-                self.refused(NoClosed, ask, {**handed, "closed": None})
+                self.refused(NoSpot, ask, **{**handed, "goal": None})
+                self.refused(NoClosed, ask, **{**handed, "closed": None})
 
     def test_truths_are_no_whole_numbers(self):
         self.assertIs(points.is_point(((1, 1), (0, 1))), True)
@@ -237,14 +295,20 @@ class Asking(unittest.TestCase):
             self.assertIs(rings.is_ring((point, pt(5, 0), pt(5, 5))), False)
             self.assertIs(frames.are_frames((("a", "ground", (*point, *way(0, 1, 0, 0))),)), False)
             self.assertIs(webs.is_web(((point,), ())), False)
-            self.refused(NoPoint, tiles.tile_of, {"point": point, "depth": 1})
-            self.refused(NoPoints, sayings.hull, {"points": (point, pt(5, 0), pt(5, 5))})
+            self.refused(NoPoint, tiles.tile_of, point=point, depth=1)
+            self.refused(NoPoints, sayings.hull, points=(point, pt(5, 0), pt(5, 5)))
         for depth in (True, False):
-            self.refused(NoDepth, tiles.tile_of, {"point": pt(1, 1), "depth": depth})
-            self.refused(NoDepth, tiles.cover, {"ring": RING[0], "depth": depth})
-            self.refused(NoRoad, webs.long_of, {"web": WEB[0], "road": depth})
-            self.refused(NoSpot, webs.point_at, {"web": WEB[0], "spot": (depth, fr(0))})
-            self.refused(NoClosed, routes.prices, {"web": WEB[0], "start": START[0], "closed": (depth,)})
+            self.refused(NoDepth, tiles.tile_of, point=pt(1, 1), depth=depth)
+            self.refused(NoDepth, tiles.cover, ring=RING[0], depth=depth)
+            self.refused(NoRoad, webs.long_of, web=WEB[0], road=depth)
+            self.refused(NoSpot, webs.point_at, web=WEB[0], spot=(depth, fr(0)))
+            self.refused(NoClosed, routes.prices, web=WEB[0], start=START[0], closed=(depth,))
+            self.refused(NoNumber, streets.find, WEB[0], ROWS[0], "oak", depth, 4)
+            self.refused(NoDay, streets.find, WEB[0], ROWS[0], "oak", 1, depth)
+            self.refused(NoDay, regions.regions, MOVES[0], depth)
+            self.refused(NoInstant, clocks.shown, MOVES[0], ZONES[0], pt(1, 1), depth)
+            for telling in ((depth, 0, 0), (0, depth, 0), (0, 0, depth)):
+                self.refused(NoTelling, clocks.instants, MOVES[0], ZONES[0], pt(1, 1), telling)
 
     def test_nothing_handed_in_is_changed(self):
         for ask, _ in OF_ANYTHING:
@@ -256,12 +320,13 @@ class Asking(unittest.TestCase):
             for thing in ANYTHING:
                 if isinstance(thing, (list, dict)):
                     before = copy.deepcopy(thing)
-                    self.refused(list(arguments.values())[0][1], ask, {name: thing for name in arguments})
+                    self.refused(list(arguments.values())[0][1], ask, **{name: thing for name in arguments})
                     self.assertEqual(thing, before)
-        for ask in (routes.is_route, routes.turns):
+        for ask, ahead in ((routes.is_route, (WEB[0], START[0], GOAL[0])), (routes.turns, (WEB[0], START[0], GOAL[0])),
+                           (streets.are_rows, (WEB[0],))):
             for thing in ANYTHING:
                 before = copy.deepcopy(thing)
-                ask(WEB[0], START[0], GOAL[0], thing)
+                ask(*ahead, thing)
                 self.assertEqual(thing, before)
 
     def test_numbers_of_30_figures_everywhere(self):

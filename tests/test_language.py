@@ -68,6 +68,8 @@ def local_names(tree):
                 yield node.arg
             elif isinstance(node, ast.Name) and isinstance(node.ctx, ast.Store):
                 yield node.id
+            elif isinstance(node, (ast.MatchAs, ast.MatchStar)) and node.name:
+                yield node.name
 
 
 def with_parents(tree):
@@ -135,8 +137,8 @@ class Language(unittest.TestCase):
                 if isinstance(node, ast.Constant):
                     self.assertNotIsInstance(node.value, (float, complex), where)
                     self.assertFalse(isinstance(node.value, str) and "%" in node.value, where)
-                if isinstance(node, ast.Pow):
-                    self.fail(f"{where}: a power")
+                if isinstance(node, ast.BinOp) and isinstance(node.op, ast.Pow):
+                    self.assertIn(getattr(node.right, "value", None), range(65), where)
                 if isinstance(node, ast.Compare) and any(isinstance(op, (ast.Is, ast.IsNot)) for op in node.ops):
                     self.assertIsInstance(node.comparators[0], ast.Constant, where)
                     self.assertIn(node.comparators[0].value, (None, True, False), where)
@@ -180,13 +182,22 @@ class Language(unittest.TestCase):
                 self.assertFalse(isinstance(node, (ast.Yield, ast.YieldFrom, ast.Starred))
                                  and not isinstance(parent, (ast.Tuple, ast.List)), where)
 
-    def test_sets_are_only_counted(self):
+    def test_views_are_iterated_at_once(self):
+        for path, _, tree in trees():
+            for node, parent in with_parents(tree):
+                if isinstance(node, ast.Call) and getattr(node.func, "attr", "") in ("items", "keys", "values"):
+                    loop = isinstance(parent, (ast.For, ast.comprehension)) and parent.iter is node
+                    self.assertTrue(loop or calls(parent, "list tuple dict sorted sum any all enumerate zip min max"),
+                                    f"{path.name}:{node.lineno}")
+
+    def test_sets_are_only_counted_and_sorted(self):
         for path, _, tree in trees():
             for node, parent in with_parents(tree):
                 where = f"{path.name}:{getattr(node, 'lineno', '')}"
-                self.assertNotIsInstance(node, (ast.Set, ast.SetComp), where)
-                if calls(node, "set frozenset"):
-                    self.assertTrue(calls(node, "set") and calls(parent, "len"), where)
+                self.assertNotIsInstance(node, ast.Set, where)
+                self.assertFalse(calls(node, "frozenset"), where)
+                if calls(node, "set") or isinstance(node, ast.SetComp):
+                    self.assertTrue(calls(parent, "len sorted") and not parent.keywords, where)
 
     def test_what_a_loop_goes_over_is_not_changed_in_it(self):
         for path, _, tree in trees():

@@ -1,16 +1,19 @@
-"""[3], as far as it speaks of points, frames, shapes, tiles, roads and routes."""
+"""[3]: the promise over the whole."""
 
 import random
 import unittest
 from fractions import Fraction
 
+from onewhere.clocks import across, first_instant, instants, shown
 from onewhere.frames import between, kept, led, told_in
 from onewhere.points import boxwise, squared, streetwise, turn
+from onewhere.regions import changed, great, ground, region_at, regions, rim
 from onewhere.rings import area, is_ring, lies, nearest, sense, wound
 from onewhere.routes import is_route, least, prices, route
 from onewhere.sayings import held, hull
-from onewhere.tiles import box, cover, merged, tile_of
+from onewhere.tiles import box, common, cover, merged, tile_of
 from onewhere.webs import long_of, nearest_spot, point_at
+from tests.days import CELLS, REGIONS, middle_of_cell, some_moves, some_zones
 from tests.roads import long_of_legs, questions
 from tests.things import fr, pt, pts, val, way, xy
 
@@ -253,3 +256,80 @@ class Roads(unittest.TestCase):
                 for begin, end in ((one, other), (other, one))[:ways]:
                     if number not in closed and price[begin] is not None:
                         self.assertLessEqual(price[end], price[begin] + val(long_of(web, number)))
+
+
+class Regions(unittest.TestCase):
+    def test_each_point_of_the_land_is_of_one_region_on_each_day(self):
+        chance = random.Random(70)
+        for _ in range(20):
+            moves, day = some_moves(chance), chance.randrange(11)
+            point = pt(Fraction(chance.randrange(640), 10), Fraction(chance.randrange(640), 10))
+            owners = [region for region in regions(moves, day)
+                      if common(ground(moves, region, day), (tile_of(point, 9),))]
+            self.assertEqual(owners, [region_at(moves, point, day)])
+
+    def test_the_areas_of_all_regions_come_to_that_of_the_land(self):
+        chance = random.Random(71)
+        for _ in range(30):
+            moves, day = some_moves(chance), chance.randrange(11)
+            self.assertEqual(sum(val(great(moves, region, day)) for region in regions(moves, day)), 64 * 64)
+            for region in REGIONS:
+                self.assertEqual(val(great(moves, region, day)), tiles_area(ground(moves, region, day)))
+                self.assertIs(val(great(moves, region, day)) > 0, region in regions(moves, day))
+
+    def test_areas_turn_by_what_changes_hands(self):
+        chance = random.Random(72)
+        for _ in range(30):
+            moves, day, other = some_moves(chance), chance.randrange(11), chance.randrange(11)
+            hands = changed(moves, day, other)
+            for region in REGIONS:
+                got = tiles_area(code for code, _, end in hands if end == region)
+                lost = tiles_area(code for code, begin, _ in hands if begin == region)
+                turned = val(great(moves, region, other)) - val(great(moves, region, day))
+                self.assertEqual(turned, got - lost)
+
+    def test_what_changed_hands_was_the_ones_and_is_the_others(self):
+        chance = random.Random(73)
+        for _ in range(30):
+            moves, day, other = some_moves(chance), chance.randrange(11), chance.randrange(11)
+            for code, begin, end in changed(moves, day, other):
+                self.assertEqual(common(ground(moves, begin, day), (code,)), (code,))
+                self.assertEqual(common(ground(moves, end, other), (code,)), (code,))
+            back = sorted((code, end, begin) for code, begin, end in changed(moves, day, other))
+            self.assertEqual(changed(moves, other, day), back)
+
+    def test_a_border_is_that_of_both(self):
+        chance = random.Random(74)
+        for _ in range(20):
+            moves, day = some_moves(chance), chance.randrange(11)
+            sides = [side for region in regions(moves, day) for side in rim(moves, region, day)]
+            for side in set(sides):
+                (x, y), (right, up) = side
+                at_the_end = x == right and x in (0, 64) or y == up and y in (0, 64)
+                self.assertEqual(sides.count(side), 1 if at_the_end else 2)
+
+
+class Clocks(unittest.TestCase):
+    def test_a_telling_leads_back_to_the_instant_at_which_it_was_shown(self):
+        chance = random.Random(75)
+        for _ in range(200):
+            moves, zones = some_moves(chance), some_zones(chance)
+            point = pt(*middle_of_cell(chance.choice(CELLS)))
+            instant = chance.randrange(10 * 1440)
+            found = instants(moves, zones, point, shown(moves, zones, point, instant))
+            self.assertIn(instant, found)
+            self.assertEqual(found, sorted(set(found)))
+            self.assertEqual(first_instant(moves, zones, point, shown(moves, zones, point, instant)), found[0])
+            for other in found:
+                self.assertEqual(shown(moves, zones, point, other), shown(moves, zones, point, instant))
+
+    def test_each_instant_is_one_for_all_places(self):
+        chance = random.Random(76)
+        for _ in range(100):
+            moves, zones = some_moves(chance), some_zones(chance)
+            point, other = (pt(*middle_of_cell(cell)) for cell in chance.sample(CELLS, 2))
+            instant = chance.randrange(10 * 1440)
+            told = across(moves, zones, point, other, shown(moves, zones, point, instant))
+            self.assertIn(shown(moves, zones, other, instant), told)
+            for telling in told:
+                self.assertIn(shown(moves, zones, point, instant), across(moves, zones, other, point, telling))

@@ -5,11 +5,11 @@ import random
 import unittest
 from fractions import Fraction
 
-from onewhere.errors import NoDepth, NoPoint, NoRing, NoTile, NoTiles, NotThere, WhereError
+from onewhere.errors import NoDepth, NoPoint, NoRing, NoTile, NoTiles, NotThere
 from onewhere.rings import is_ring
 from onewhere.tiles import box, common, cover, merged, neighbours, tile_of, without
 from tests.ground import has, held_by_the_patches, line_meets, middles, plain, sides_of
-from tests.things import ANYTHING, BIG, OUTLANDISH, Prickly, either_way_from_each_corner, pt, pts, val
+from tests.things import ANYTHING, BIG, OUTLANDISH, Prickly, Refusals, either_way_from_each_corner, pt, pts, val
 
 LITTLE = Fraction(1, BIG)
 
@@ -52,13 +52,6 @@ def some_codes(chance, depth, code="", share=3):
     if len(code) == depth or pick == 0:
         return (code,) if chance.random() < 0.6 else ()
     return tuple(part for figure in "0123" for part in some_codes(chance, depth, code + figure, share))
-
-
-class Refusals(unittest.TestCase):
-    def refused(self, refusal, ask, *handed):
-        with self.assertRaises(WhereError) as told:
-            ask(*handed)
-        self.assertIs(type(told.exception), refusal, handed)
 
 
 class Box(Refusals):

@@ -1,9 +1,23 @@
 """What several tests need: short ways to write points, and things of every kind that are none."""
 
+import unittest
 from fractions import Fraction
+
+from onewhere.errors import WhereError
 
 BIG = 10 ** 30 - 1
 BIG_ODD = 10 ** 30 - 3
+
+
+class Refusals(unittest.TestCase):
+    """What tests of refusals need."""
+
+    def refused(self, refusal, ask, *handed, **by_name):
+        """What is handed in is refused, by the very class that is told, with some words."""
+        with self.assertRaises(WhereError) as told:
+            ask(*handed, **by_name)
+        self.assertIs(type(told.exception), refusal, (handed, by_name))
+        self.assertTrue(str(told.exception))
 
 
 class Prickly:
