@@ -122,8 +122,13 @@ def check_frames(thing):
         raise NoFrames("these are no frames: a rising tuple of (name, other, map) that come to the ground")
 
 
+def has_frame(frames, thing):
+    """Whether this is the name of one of the frames, or of the ground."""
+    return is_word(thing) and thing in [GROUND] + [name for name, other, way in frames]
+
+
 def check_frame(frames, thing):
-    if not is_word(thing) or thing not in [GROUND] + [name for name, other, way in frames]:
+    if not has_frame(frames, thing):
         raise NoFrame("this is neither the ground nor one of the frames")
 
 
@@ -137,12 +142,17 @@ def to_ground(frames, name):
     return whole
 
 
+def from_ground(frames, name):
+    """The map from the ground to a frame, or the ground."""
+    return leading_back(to_ground(frames, name))
+
+
 def between(frames, one, other):
     """The map from a point as told in one frame to the same place as told in the other one."""
     check_frames(frames)
     check_frame(frames, one)
     check_frame(frames, other)
-    return one_then_other(to_ground(frames, one), leading_back(to_ground(frames, other)))
+    return one_then_other(to_ground(frames, one), from_ground(frames, other))
 
 
 def told_in(frames, one, other, point):

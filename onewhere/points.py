@@ -1,7 +1,7 @@
 """Points, the turn that three of them make, and how far two are apart ([10], [11])."""
 
 from onewhere.errors import NoPoint, NotThere
-from onewhere.exact import ZERO, amount, is_fraction, is_tuple, minus, order, plus, sign, times
+from onewhere.exact import ZERO, amount, in_least_terms, is_fraction, is_tuple, minus, order, plus, sign, times
 
 LAND_SIDE = 64
 
@@ -40,6 +40,12 @@ def over_one_bottom(point):
     """The whole numbers (x, y, bottom) of a point with one bottom, above 0, for both axes."""
     (x_top, x_bottom), (y_top, y_bottom) = point
     return x_top * y_bottom, y_top * x_bottom, x_bottom * y_bottom
+
+
+def point_in_least_terms(point):
+    """The point of any tops and any bottoms but 0."""
+    (x_top, x_bottom), (y_top, y_bottom) = point
+    return in_least_terms(x_top, x_bottom), in_least_terms(y_top, y_bottom)
 
 
 def turned(one, two, three):
@@ -88,6 +94,12 @@ def street_apart(one, other):
     return plus(right, up)
 
 
+def box_apart(one, other):
+    """How far two points that are known to be points are apart, along the axis where it is more."""
+    right, up = amounts_apart(one, other)
+    return right if order(right, up) > 0 else up
+
+
 def turn(one, two, three):
     """1, -1 or 0, as going from one over two to three one turns to the left, to the right or neither."""
     check_points(one, two)
@@ -110,5 +122,4 @@ def streetwise(one, other):
 def boxwise(one, other):
     """How far two points are apart, along the axis where it is more."""
     check_points(one, other)
-    right, up = amounts_apart(one, other)
-    return right if order(right, up) > 0 else up
+    return box_apart(one, other)

@@ -2,8 +2,8 @@
 
 from onewhere.errors import NoPoints
 from onewhere.exact import in_order, is_tuple
-from onewhere.points import is_point, over_one_bottom, point_order, turned
-from onewhere.rings import FEWEST_CORNERS, check_ring, is_between, place, sides, sides_meet
+from onewhere.points import is_point, over_one_bottom, point_in_least_terms, point_order, turned
+from onewhere.rings import FEWEST_CORNERS, check_ring, is_between, on_side, place, sides, sides_meet
 
 MOST_POINTS = 12
 
@@ -33,6 +33,15 @@ def meeting(side, other):
     if bottom < 0:
         x, y, bottom = -x, -y, -bottom
     return (x, bottom), (y, bottom)
+
+
+def common_point(side, other):
+    """Some point that two sides have in common, None where there is none; either may be without length."""
+    ends = [end for end in other if on_side(side, end)] + [end for end in side if on_side(other, end)]
+    if ends:
+        return ends[0]
+    # Sides that go alike have one's end in common, if anything.
+    return point_in_least_terms(meeting(side, other)) if sides_meet(side, other) else None
 
 
 def half_way(one, other):

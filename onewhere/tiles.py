@@ -2,7 +2,7 @@
 
 from onewhere.errors import NoDepth, NoTile, NoTiles
 from onewhere.exact import in_least_terms, is_number, is_rising, is_tuple, order, plus
-from onewhere.points import LAND_SIDE, check_land_point
+from onewhere.points import LAND_SIDE, check_land_point, point_in_least_terms
 from onewhere.rings import check_ring, place, sides
 from onewhere.sayings import cuts, half_way, middles
 
@@ -170,6 +170,12 @@ def corners_of(code):
     return (x, y), (plus(x, side), plus(y, side))
 
 
+def middle_of_tile(code):
+    """The middle of a tile, in least terms."""
+    low, high = corners_of(code)
+    return point_in_least_terms(half_way(low, high))
+
+
 def walls(low, high):
     """The four sides of a tile, by its least and its greatest corner."""
     return sides((low, (high[0], low[1]), high, (low[0], high[1])))
@@ -185,29 +191,37 @@ def is_inside_tile(low, high, point):
     return all(order(low[at], point[at]) < 0 and order(point[at], high[at]) < 0 for at in (0, 1))
 
 
-def marks(ring, low, high):
-    """Points of a ring's rim, of which one is a tile's, or inside it, wherever any point of the rim is."""
+def marks(rows, low, high):
+    """Points of some sides, of which one is a tile's, or inside it, wherever any point of them is."""
     lines = walls(low, high)
     found = []
-    for side in sides(ring):
+    for side in rows:
         points = cuts(side, lines)
         found += points + middles(points)
     return found
+
+
+def tile_point(code, rows):
+    """Some point of some sides, in least terms, that a tile has; None where it has none."""
+    low, high = corners_of(code)
+    inside = [point for point in marks(rows, low, high) if is_of_tile(low, high, point)]
+    return point_in_least_terms(inside[0]) if inside else None
 
 
 def is_met(ring, code):
     """Whether some point of a tile lies in or on a ring."""
     low, high = corners_of(code)
     # Where the rim has no point of the tile, all of it lies where its least corner does.
-    return place(ring, low) != "out" or any(is_of_tile(low, high, point) for point in marks(ring, low, high))
+    return place(ring, low) != "out" or any(is_of_tile(low, high, point) for point in marks(sides(ring), low, high))
 
 
 def is_within(ring, code):
     """Whether all points of a tile lie in or on a ring."""
     low, high = corners_of(code)
     middle = half_way(low, high)
+    rim = marks(sides(ring), low, high)
     # The rim has ground that is out right beside it, so it goes through no such tile.
-    return place(ring, middle) == "in" and not any(is_inside_tile(low, high, point) for point in marks(ring, low, high))
+    return place(ring, middle) == "in" and not any(is_inside_tile(low, high, point) for point in rim)
 
 
 def cover(ring, depth):

@@ -109,6 +109,18 @@ def spot_point(web, spot):
     return part_of_way(begin, end, over(left, piece))
 
 
+def road_part(web, road, low, high):
+    """The straight pieces of a road from low to high; where these are alike, one piece without length."""
+    points = [spot_point(web, (road, low))]
+    gone = ZERO
+    for begin, end in pieces(web, road):
+        gone = plus(gone, street_apart(begin, end))
+        if order(low, gone) < 0 and order(gone, high) < 0:
+            points.append(end)
+    points.append(spot_point(web, (road, high)))
+    return pairs(points)
+
+
 def point_at(web, spot):
     """The point of the spot."""
     check_web(web)
@@ -128,13 +140,18 @@ def nearest_spots(web, point):
     return found
 
 
-def nearest_spot(web, point):
-    """(off, road, far) of the spot that is nearest to the point, off squared; None where there are no roads."""
-    check_web(web)
-    check_point(point)
+def least_off(web, point):
+    """(off, road, far) of the spot nearest to a point, None where there are no roads; both are known to be such."""
     best = None
     for found in nearest_spots(web, point):
         # Of several as near the first one has the least road and far.
         if best is None or order(found[0], best[0]) < 0:
             best = found
     return best
+
+
+def nearest_spot(web, point):
+    """(off, road, far) of the spot that is nearest to the point, off squared; None where there are no roads."""
+    check_web(web)
+    check_point(point)
+    return least_off(web, point)

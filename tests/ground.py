@@ -15,7 +15,9 @@ def sides_of(corners):
 
 
 def segments_meet(a, b, c, d):
-    """Whether two segments of Fractions have a point in common, by solving for it."""
+    """Whether two segments of Fractions have a point in common, by solving for it; either may be one point."""
+    if a == b:
+        a, b, c, d = c, d, a, b
     ux, uy, vx, vy = b[0] - a[0], b[1] - a[1], d[0] - c[0], d[1] - c[1]
     wx, wy = c[0] - a[0], c[1] - a[1]
     cross = ux * vy - uy * vx
@@ -98,3 +100,13 @@ def has(corners, point):
 
 def told(point):
     return fr(point[0]), fr(point[1])
+
+
+def square(code):
+    """(x, y, side) of a code as Fractions, fourth by fourth."""
+    x, y, side = Fraction(0), Fraction(0), Fraction(64)
+    for figure in code:
+        side /= 2
+        x += side * (figure in "13")
+        y += side * (figure in "23")
+    return x, y, side

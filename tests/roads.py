@@ -26,6 +26,21 @@ def walked(web, number, far):
     raise AssertionError("beyond the road")
 
 
+def nearest_by_the_words(web, point):
+    """The least (off, road, far) by the foot of the point on each piece, or its ends."""
+    found = []
+    for number in range(len(web[1])):
+        gone = Fraction(0)
+        for (ax, ay), (bx, by) in zip(way_along(web, number), way_along(web, number)[1:]):
+            share = ((point[0] - ax) * (bx - ax) + (point[1] - ay) * (by - ay)) / ((bx - ax) ** 2 + (by - ay) ** 2)
+            for part in [Fraction(0), Fraction(1)] + [share] * (0 < share < 1):
+                x, y = ax + part * (bx - ax), ay + part * (by - ay)
+                off = (x - point[0]) ** 2 + (y - point[1]) ** 2
+                found.append((off, number, gone + part * streets((ax, ay), (bx, by))))
+            gone += streets((ax, ay), (bx, by))
+    return min(found, default=None)
+
+
 def some_web(chance, span=8, below=1):
     """A web by chance, on so few points that much is alike."""
     def point():

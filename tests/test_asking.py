@@ -5,10 +5,13 @@ import inspect
 import itertools
 import unittest
 
-from onewhere import clocks, errors, frames, points, regions, rings, routes, sayings, streets, tiles, webs
+from onewhere import clocks, errors, frames, places, points, regions, rings, routes, sayings, streets, texts, tiles, webs
+from onewhere.books import Book
+from onewhere.desk import Desk
 from onewhere.errors import (
-    NoClosed, NoDay, NoDepth, NoFrame, NoFrames, NoInstant, NoMap, NoMoves, NoNumber, NoPoint, NoPoints, NoRegion,
-    NoRing, NoRoad, NoRows, NoSpot, NoStreet, NoTelling, NoTile, NoTiles, NotThere, NoWeb, NoZones,
+    NoAtlas, NoChain, NoClosed, NoDay, NoDepth, NoForm, NoFrame, NoFrames, NoInstant, NoKind, NoMap, NoMoves, NoName,
+    NoNumber, NoPoint, NoPoints, NoRegion, NoRing, NoRoad, NoRows, NoSpot, NoStreet, NoTelling, NoText, NoTile, NoTiles,
+    NotThere, NoWeb, NoZones,
 )
 from tests.things import ANYTHING, BIG, OUTLANDISH, Refusals, fr, pt, pts, way
 
@@ -38,6 +41,24 @@ ZONES = ((("east", ((0, -60),)), ("west", ((0, 0), (90, 30), (150, 0)))), NoZone
 INSTANT = (95, NoInstant)
 TELLING = ((0, 2, 31), NoTelling)
 OTHER_POINT = (pt(40, 1), NoPoint)
+ATLAS = ((FRAMES[0], WEB[0], ROWS[0], MOVES[0]), NoAtlas)
+FORM = (("address", "oak", 5), NoForm)
+OTHER_FORM = (("region", "west"), NoForm)
+KIND = (("tile", 3), NoKind)
+KINDS = ((("tile", 3), "region", ("point", "inner")), NoChain)
+NAME = ("home", NoName)
+TEXT = ("7/2", NoText)
+FORM_TEXT = ("spot 3 7/2", NoText)
+
+
+def book_with_deeds():
+    book = Book(ATLAS[0])
+    book.put("home", FORM[0], 3)
+    book.put("work", OTHER_FORM[0], 4)
+    return book
+
+
+BOOK = book_with_deeds()
 
 # Each function with its arguments by the names told: something good, and the refusal of what is not.
 REFUSING = (
@@ -87,10 +108,31 @@ REFUSING = (
     (clocks.instants, {"moves": MOVES, "zones": ZONES, "point": POINT, "telling": TELLING}),
     (clocks.first_instant, {"moves": MOVES, "zones": ZONES, "point": POINT, "telling": TELLING}),
     (clocks.across, {"moves": MOVES, "zones": ZONES, "point": POINT, "other": OTHER_POINT, "telling": TELLING}),
+    (places.is_form, {"atlas": ATLAS, "day": DAY, "thing": (FORM[0], None)}),
+    (places.meant, {"atlas": ATLAS, "day": DAY, "form": FORM}),
+    (places.anchor, {"atlas": ATLAS, "day": DAY, "form": FORM}),
+    (places.lead, {"atlas": ATLAS, "day": DAY, "form": FORM, "kind": KIND}),
+    (places.against, {"atlas": ATLAS, "day": DAY, "form": FORM, "other": OTHER_FORM}),
+    (places.both_mean, {"atlas": ATLAS, "day": DAY, "form": FORM, "other": OTHER_FORM}),
+    (places.chain, {"atlas": ATLAS, "day": DAY, "form": FORM, "kinds": KINDS}),
+    (texts.form_text, {"form": FORM}),
+    (texts.read_fraction, {"text": TEXT}),
+    (texts.read_form, {"text": FORM_TEXT}),
+    (BOOK.where, {"name": NAME, "day": DAY}),
+    (BOOK.names, {"day": DAY}),
+    (BOOK.known, {"form": FORM, "day": DAY}),
+    (BOOK.history, {"name": NAME}),
+)
+# What makes something anew, or does something, so that it has no answer to ask for again.
+DOING = (
+    (Book, {"atlas": ATLAS}),
+    (Desk, {"atlas": ATLAS, "zones": ZONES}),
+    (book_with_deeds().put, {"name": NAME, "form": FORM, "day": DAY}),
+    (book_with_deeds().drop, {"name": NAME, "day": DAY}),
 )
 OF_ANYTHING = (
     (points.is_point, POINT[0]), (frames.are_frames, FRAMES[0]), (rings.is_ring, RING[0]), (webs.is_web, WEB[0]),
-    (regions.are_moves, MOVES[0]), (clocks.are_zones, ZONES[0]),
+    (regions.are_moves, MOVES[0]), (clocks.are_zones, ZONES[0]), (places.is_atlas, ATLAS[0]),
 )
 TOLD = {
     points: "is_point turn squared streetwise boxwise",
@@ -103,6 +145,9 @@ TOLD = {
     streets: "are_rows find numbers_at later",
     regions: "are_moves region_at ground great regions changed rim",
     clocks: "are_zones shown instants first_instant across",
+    places: "is_atlas is_form meant anchor lead against both_mean chain",
+    texts: "form_text read_fraction read_form",
+    BOOK: "where names known history",
 }
 
 # Nearly right, each in one thing only: truths, lists, terms that are not the least.
@@ -138,13 +183,24 @@ NEARLY = {
     NoZones: [list(ZONES[0]), ZONES[0][::-1], ZONES[0][:1] * 2, (("a", ((1, 0),)),), (("a", [(0, 0)]),), (("a", ()),),
               (("a", ((0, True),)),), (("a", ((False, 0),)),), (["a", ((0, 0),)],), (("a", ((0, 901),)),)],
     NoInstant: [-1, True, False, "95", (95,), [95], None, -BIG],
+    NoAtlas: [list(ATLAS[0]), ATLAS[0][:3], ATLAS[0][::-1], ATLAS[0] + ((),), (FRAMES[0], (WEB[0][0], ()), *ATLAS[0][2:]),
+              (None, *ATLAS[0][1:]), (ATLAS[0],), (*ATLAS[0][:3], list(MOVES[0]))],
+    NoForm: [["tile", "0"], ("tile", "4"), ("spot", True, fr(0)), ("address", "oak", True), ("region", "West"),
+             ("point", "ground", (2, 2), fr(1)), ("tile", "0", "0"), ("form", "west"), "region west", POINT[0]],
+    NoKind: ["point", ("tile", 10), ("tile", True), ["tile", 3], ("point", "other"), ("spot",), "Spot", ("tile", 3, 3)],
+    NoChain: [[KIND[0]], KIND[0], "spot", ("spot", "point"), ("spot",) * 9, ("spot", ["tile", 3]), (("tile", False),)],
+    NoName: ["Home", "", "home again", ("home",), ["home"], 1, True, b"home"],
+    NoText: ["3/1", "-0", "+3", " 3", "3 ", "spot 3 4/2", "spot  3 4", "Spot 3 4", ("3",), ["3"], b"3"],
     NoTelling: [(0, 24, 0), (0, 0, 60), (0, True, 0), (False, 0, 0), [0, 0, 0], (0, 0), (0, 0, 0, 0), (0, 0, False)],
 }
 
 
 def in_order_of_looking(arguments):
-    """The names of the arguments as they are looked at: closed behind the web, the others from the left."""
+    """The names of the arguments as they are looked at: closed behind the web, of a book a day ahead of a form, the
+    others from the left."""
     names = [name for name in arguments if name != "closed"]
+    if "form" in names and "atlas" not in names:
+        names = sorted(names, key=["name", "day", "form"].index)
     return names[:1] + ["closed"] + names[1:] if "closed" in arguments else names
 
 
@@ -152,7 +208,7 @@ def is_so(refusal, thing):
     """Whether a thing out of the common lists happens to be nothing to refuse."""
     if refusal in (NoFrames, NoTiles, NoClosed, NoRows, NoMoves, NoZones):
         return thing == ()
-    if refusal in (NoStreet, NoRegion):
+    if refusal in (NoStreet, NoRegion, NoName):
         return isinstance(thing, str) and thing in ("a", "ground")
     if refusal in (NoDay, NoInstant, NoNumber):
         return type(thing) is int and (thing >= 0 or refusal is NoNumber)
@@ -185,11 +241,26 @@ class Asking(Refusals):
             told = inspect.signature(ask).parameters
             self.assertEqual(list(told), list(arguments))
             for name, parameter in told.items():
-                by_name = name == "closed"
-                self.assertIs(parameter.kind is parameter.KEYWORD_ONLY, by_name)
-                self.assertEqual(parameter.default, () if by_name else parameter.empty)
+                self.assertIs(parameter.kind is parameter.KEYWORD_ONLY, name == "closed")
+                self.assertEqual(parameter.default, () if name == "closed" else parameter.empty)
         for ask, _ in OF_ANYTHING:
             self.assertEqual(list(inspect.signature(ask).parameters), ["thing"])
+
+    def test_the_arguments_of_classes_are_those_told(self):
+        for ask, names in (
+            (Book, "atlas"), (Book.put, "self name form day"), (Book.drop, "self name day"), (Book.undo, "self"),
+            (Book.where, "self name day"), (Book.names, "self day"), (Book.known, "self form day"),
+            (Book.history, "self name"), (Desk, "atlas zones"), (Desk.say, "self line"),
+            (texts.fraction_text, "fraction"),
+        ):
+            told = inspect.signature(ask).parameters
+            self.assertEqual(" ".join(told), names)
+            for name, parameter in told.items():
+                self.assertIs(parameter.kind, parameter.POSITIONAL_OR_KEYWORD)
+                self.assertEqual(parameter.default, () if name == "zones" else parameter.empty)
+        for name in ("put", "drop", "undo", "where", "names", "known", "history"):
+            self.assertIn(name, vars(Book))
+        self.assertIn("say", vars(Desk))
 
     def test_by_place_and_by_name(self):
         for ask, arguments in REFUSING:
@@ -230,13 +301,13 @@ class Asking(Refusals):
                 self.assertEqual(ask(**good_ones(arguments)), before)
 
     def test_each_argument_is_refused_by_itself(self):
-        for ask, arguments in REFUSING:
+        for ask, arguments in REFUSING + DOING:
             for name, (_, refusal) in arguments.items():
                 for thing in wrong_things(refusal) if refusal else ():
                     self.refused(refusal, ask, **{**good_ones(arguments), name: thing})
 
     def test_the_first_wrong_one_is_refused(self):
-        for ask, arguments in REFUSING:
+        for ask, arguments in REFUSING + DOING:
             names = [name for name in in_order_of_looking(arguments) if arguments[name][1]]
             for wrong in itertools.product((False, True), repeat=len(names)):
                 if True not in wrong:
@@ -277,6 +348,17 @@ class Asking(Refusals):
             self.refused(NoWeb, streets.are_rows, thing, thing)
         self.assertIs(streets.are_rows(WEB[0], ()), True)
 
+    def test_of_anything_as_a_form(self):
+        for thing in [(), *ANYTHING, *OUTLANDISH]:
+            self.assertIs(places.is_form(ATLAS[0], 4, thing), False)
+            self.refused(NoAtlas, places.is_form, thing, 4, thing)
+            self.refused(NoDay, places.is_form, ATLAS[0], -1, thing)
+
+    def test_of_anything_as_a_line(self):
+        desk = Desk(ATLAS[0])
+        for thing in [(), *ANYTHING, *OUTLANDISH]:
+            self.refused(errors.NoLine, desk.say, thing)
+
     def test_of_anything_as_a_route(self):
         for thing in [(), *ANYTHING, *OUTLANDISH]:
             self.assertIs(routes.is_route(WEB[0], START[0], GOAL[0], thing), False)
@@ -307,6 +389,12 @@ class Asking(Refusals):
             self.refused(NoDay, streets.find, WEB[0], ROWS[0], "oak", 1, depth)
             self.refused(NoDay, regions.regions, MOVES[0], depth)
             self.refused(NoInstant, clocks.shown, MOVES[0], ZONES[0], pt(1, 1), depth)
+            self.refused(NoDay, places.anchor, ATLAS[0], depth, ("tile", ""))
+            self.refused(NoForm, places.anchor, ATLAS[0], 4, ("spot", depth, fr(0)))
+            self.refused(NoKind, places.lead, ATLAS[0], 4, ("tile", ""), ("tile", depth))
+            self.refused(NoForm, texts.form_text, ("address", "oak", depth))
+            self.refused(NoPoint, texts.fraction_text, (depth, 1))
+            self.refused(NoDay, BOOK.names, depth)
             for telling in ((depth, 0, 0), (0, depth, 0), (0, 0, depth)):
                 self.refused(NoTelling, clocks.instants, MOVES[0], ZONES[0], pt(1, 1), telling)
 
@@ -320,10 +408,11 @@ class Asking(Refusals):
             for thing in ANYTHING:
                 if isinstance(thing, (list, dict)):
                     before = copy.deepcopy(thing)
-                    self.refused(list(arguments.values())[0][1], ask, **{name: thing for name in arguments})
+                    first = arguments[in_order_of_looking(arguments)[0]][1]
+                    self.refused(first, ask, **{name: thing for name in arguments})
                     self.assertEqual(thing, before)
         for ask, ahead in ((routes.is_route, (WEB[0], START[0], GOAL[0])), (routes.turns, (WEB[0], START[0], GOAL[0])),
-                           (streets.are_rows, (WEB[0],))):
+                           (streets.are_rows, (WEB[0],)), (places.is_form, (ATLAS[0], 4))):
             for thing in ANYTHING:
                 before = copy.deepcopy(thing)
                 ask(*ahead, thing)

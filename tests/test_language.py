@@ -217,6 +217,62 @@ class Language(unittest.TestCase):
             self.assertEqual(set(re.findall(r"\w+", text)) & BARRED_WORDS, set(), path.name)
             self.assertNotRegex(text, "dataclass|overload|contextmanager|\t", path.name)
 
+    def test_classes(self):
+        own = [(path, node) for path, _, tree in trees() for node in tree.body if isinstance(node, ast.ClassDef)]
+        methods = {part.name for _, node in own for part in node.body if isinstance(part, ast.FunctionDef)}
+        assigned = set()
+        for path, node in own:
+            self.assertEqual(node.decorator_list, [], path.name)
+            for part in node.body:
+                docstring = isinstance(part, ast.Expr) and isinstance(part.value, ast.Constant)
+                self.assertTrue(docstring or isinstance(part, ast.FunctionDef), f"{path.name}:{part.lineno}")
+        for path, _, tree in trees():
+            self.assertFalse([node for node in ast.walk(tree) if isinstance(node, ast.ClassDef) and node not in tree.body])
+            assigned |= {node.attr for node in ast.walk(tree)
+                         if isinstance(node, ast.Attribute) and isinstance(node.ctx, ast.Store)}
+        self.assertEqual(methods & assigned, set())
+        for path, _, tree in trees():
+            called = {node.func for node in ast.walk(tree) if isinstance(node, ast.Call)}
+            for node in ast.walk(tree):
+                if isinstance(node, ast.Attribute) and node not in called:
+                    self.assertIn(node.attr, assigned, f"{path.name}:{node.lineno}")
+        self.assertEqual(assigned & (METHODS | set(dir(str)) | set(dir(dict)) | set(dir(list)) | set(dir(int))), set())
+
+    def test_errors_are_own_ones_made_on_the_spot(self):
+        own = {name for path, _, tree in trees() if path.stem == "errors" for name in defined(tree)}
+        for path, _, tree in trees():
+            for node in ast.walk(tree):
+                where = f"{path.name}:{getattr(node, 'lineno', '')}"
+                if isinstance(node, ast.ExceptHandler):
+                    self.assertIn(getattr(node.type, "id", None), own, where)
+                    self.assertIsNone(node.name, where)
+                if isinstance(node, ast.Raise):
+                    self.assertIn(node.exc.func.id, own, where)
+                    self.assertTrue(node.cause is None or node.cause.value is None, where)
+
+    def test_patterns(self):
+        for path, _, tree in trees():
+            for match in ast.walk(tree):
+                if not isinstance(match, ast.Match):
+                    continue
+                for case in match.cases:
+                    where = f"{path.name}:{case.pattern.lineno}"
+                    takes_all = isinstance(case.pattern, ast.MatchAs) and case.pattern.pattern is None
+                    self.assertTrue(case is match.cases[-1] or not takes_all, where)
+                    names = [node.name for node in ast.walk(case.pattern) if isinstance(node, ast.MatchAs) and node.name]
+                    self.assertEqual(len(names), len(set(names)), where)
+                    for node in ast.walk(case.pattern):
+                        self.assertNotIsInstance(node, (ast.MatchClass, ast.MatchMapping), where)
+                    for node in ast.walk(ast.Module(case.body, [])):
+                        self.assertFalse(isinstance(node, ast.Name) and isinstance(node.ctx, ast.Store)
+                                         and node.id in names, where)
+            for function in functions(tree):
+                captured = {node.name for node in ast.walk(function) if isinstance(node, ast.MatchAs) and node.name}
+                self.assertEqual(captured & {arg.arg for arg in function.args.args}, set(), path.name)
+                stored = {node.id for node in ast.walk(function)
+                          if isinstance(node, ast.Name) and isinstance(node.ctx, ast.Store)}
+                self.assertEqual(captured & stored, set(), f"{path.name}:{function.name}")
+
     def test_tests_stand_outside(self):
         for path, _, tree in trees():
             self.assertFalse(any(function.name.startswith("test") for function in functions(tree)), path.name)

@@ -5,15 +5,19 @@ import unittest
 from fractions import Fraction
 
 from onewhere.clocks import across, first_instant, instants, shown
+from onewhere.errors import NotThere
 from onewhere.frames import between, kept, led, told_in
+from onewhere.places import against, anchor, both_mean, chain, is_form, lead, meant
 from onewhere.points import boxwise, squared, streetwise, turn
 from onewhere.regions import changed, great, ground, region_at, regions, rim
 from onewhere.rings import area, is_ring, lies, nearest, sense, wound
 from onewhere.routes import is_route, least, prices, route
 from onewhere.sayings import held, hull
+from onewhere.texts import form_text, read_form
 from onewhere.tiles import box, common, cover, merged, tile_of
 from onewhere.webs import long_of, nearest_spot, point_at
 from tests.days import CELLS, REGIONS, middle_of_cell, some_moves, some_zones
+from tests.forms import ground_has, ground_of_form, some_atlas, some_form, some_kind
 from tests.roads import long_of_legs, questions
 from tests.things import fr, pt, pts, val, way, xy
 
@@ -333,3 +337,100 @@ class Clocks(unittest.TestCase):
             self.assertIn(shown(moves, zones, other, instant), told)
             for telling in told:
                 self.assertIn(shown(moves, zones, point, instant), across(moves, zones, other, point, telling))
+
+
+def leadings(seed, many):
+    """(atlas, day, form, kinds, told): chains by chance that are not refused."""
+    chance = random.Random(seed)
+    while many:
+        atlas, day = some_atlas(chance, below=chance.choice((1, 2))), chance.randrange(12)
+        form = some_form(chance, atlas, day)
+        kinds = tuple(some_kind(chance, atlas) for _ in range(chance.randint(1, 8)))
+        try:
+            told = chain(atlas, day, form, kinds)
+        except NotThere:
+            continue
+        many -= 1
+        yield atlas, day, form, kinds, told
+
+
+class OnePlaceInManyForms(unittest.TestCase):
+    def test_no_further_away_than_all_that_was_told_together(self):
+        for atlas, day, form, kinds, told in leadings(100, 150):
+            self.assertEqual(len(told), len(kinds))
+            whole = Fraction(0)
+            for there, off in told:
+                whole += val(off)
+                self.assertLessEqual(val(boxwise(anchor(atlas, day, form), anchor(atlas, day, there))), whole)
+
+    def test_a_form_that_was_led_to_is_one_and_may_be_written(self):
+        for atlas, day, _, kinds, told in leadings(101, 100):
+            for kind, (there, _) in zip(kinds, told):
+                self.assertEqual(there[0], kind if isinstance(kind, str) else kind[0])
+                self.assertIs(is_form(atlas, day, there), True)
+                self.assertEqual(read_form(form_text(there)), there)
+
+    def test_a_point_led_through_any_frames_and_back_is_itself(self):
+        chance = random.Random(102)
+        for _ in range(60):
+            atlas = some_atlas(chance)
+            names = ["ground"] + [name for name, _, _ in atlas[0]]
+            frame = chance.choice(names)
+            form = ("point", frame, fr(Fraction(chance.randint(-90, 90), 7)), fr(chance.randint(-9, 99)))
+            way_round = [("point", chance.choice(names)) for _ in range(7)] + [("point", frame)]
+            told = chain(atlas, 0, form, tuple(way_round))
+            self.assertEqual(told[-1], (form, (0, 1)))
+            for there, off in told:
+                self.assertEqual(off, (0, 1))
+                self.assertEqual(against(atlas, 0, form, there), "one")
+
+    def test_a_tile_has_each_point_that_led_to_it(self):
+        for atlas, day, form, kinds, told in leadings(103, 300):
+            there, off = told[0]
+            if there[0] == "tile":
+                ground = ground_of_form(atlas, day, there)
+                self.assertTrue(ground_has(ground, xy(anchor(atlas, day, form))))
+                self.assertLessEqual(val(off), val(box(there[1])[2]) / 2)
+                if form[0] in ("point", "spot"):
+                    self.assertEqual(against(atlas, day, form, there), "open")
+
+    def test_a_numbers_stretch_has_each_spot_that_led_to_it(self):
+        found = 0
+        for atlas, day, form, kinds, told in leadings(104, 500):
+            there, _ = told[0]
+            if form[0] == "spot" and there[0] == "address":
+                found += 1
+                self.assertEqual(against(atlas, day, form, there), "open")
+                self.assertEqual(both_mean(atlas, day, form, there), point_at(atlas[1], form[1:]))
+                # The spot itself, where no road with a lesser number, or far, goes over it.
+                if lead(atlas, day, form, "spot")[0] == form:
+                    _, road, low, high = meant(atlas, day, there)
+                    self.assertEqual(road, form[1])
+                    self.assertTrue(val(low) <= val(form[2]) <= val(high))
+        self.assertGreater(found, 5)
+
+    def test_a_region_has_the_middle_of_each_tile_that_led_to_it(self):
+        found = 0
+        for atlas, day, form, kinds, told in leadings(105, 400):
+            there, _ = told[0]
+            if there[0] == "region":
+                found += form[0] == "tile"
+                point = ("point", "ground", *anchor(atlas, day, form))
+                self.assertEqual(against(atlas, day, point, there), "open")
+                self.assertEqual(region_at(atlas[3], anchor(atlas, day, form), day), there[1])
+        self.assertGreater(found, 5)
+
+    def test_what_is_surely_one_place_is_led_alike(self):
+        chance = random.Random(106)
+        for _ in range(60):
+            atlas, day = some_atlas(chance), chance.randrange(12)
+            form = some_form(chance, atlas, day)
+            there, _ = lead(atlas, day, form, ("point", chance.choice(["ground"] + [name for name, _, _ in atlas[0]])))
+            self.assertEqual(anchor(atlas, day, there), anchor(atlas, day, form))
+            if form[0] in ("point", "spot"):
+                self.assertEqual(against(atlas, day, form, there), "one")
+            try:
+                expected = lead(atlas, day, form, "region")
+            except NotThere:
+                continue
+            self.assertEqual(lead(atlas, day, there, "region"), expected)

@@ -8,7 +8,7 @@ from fractions import Fraction
 from onewhere.errors import NoDepth, NoPoint, NoRing, NoTile, NoTiles, NotThere
 from onewhere.rings import is_ring
 from onewhere.tiles import box, common, cover, merged, neighbours, tile_of, without
-from tests.ground import has, held_by_the_patches, line_meets, middles, plain, sides_of
+from tests.ground import has, held_by_the_patches, line_meets, middles, plain, sides_of, square
 from tests.things import ANYTHING, BIG, OUTLANDISH, Prickly, Refusals, either_way_from_each_corner, pt, pts, val
 
 LITTLE = Fraction(1, BIG)
@@ -19,16 +19,6 @@ def codes_of(depth):
 
 
 ALL_BUT_DEEP = [code for depth in range(5) for code in codes_of(depth)]
-
-
-def square(code):
-    """(x, y, side) of a code as Fractions, fourth by fourth."""
-    x, y, side = Fraction(0), Fraction(0), Fraction(64)
-    for figure in code:
-        side /= 2
-        x += side * (figure in "13")
-        y += side * (figure in "23")
-    return x, y, side
 
 
 def cells(codes, depth):

@@ -6,7 +6,7 @@ from fractions import Fraction
 
 from onewhere.errors import NoPoint, NoRoad, NoSpot, NoWeb, WhereError
 from onewhere.webs import is_web, long_of, nearest_spot, point_at
-from tests.roads import some_web, streets, walked, way_along
+from tests.roads import nearest_by_the_words, some_web, walked
 from tests.things import ANYTHING, BIG, OUTLANDISH, Prickly, fr, pt, pts, val, xy
 
 LITTLE = Fraction(1, BIG)
@@ -223,21 +223,6 @@ class PointAt(unittest.TestCase):
             self.assertIs(type(told.exception), NoSpot, thing)
         with self.assertRaises(NoSpot):
             point_at(web_of(), (0, fr(0)))
-
-
-def nearest_by_the_words(web, point):
-    """The least (off, road, far) by the foot of the point on each piece, or its ends."""
-    found = []
-    for number in range(len(web[1])):
-        gone = Fraction(0)
-        for (ax, ay), (bx, by) in zip(way_along(web, number), way_along(web, number)[1:]):
-            share = ((point[0] - ax) * (bx - ax) + (point[1] - ay) * (by - ay)) / ((bx - ax) ** 2 + (by - ay) ** 2)
-            for part in [Fraction(0), Fraction(1)] + [share] * (0 < share < 1):
-                x, y = ax + part * (bx - ax), ay + part * (by - ay)
-                off = (x - point[0]) ** 2 + (y - point[1]) ** 2
-                found.append((off, number, gone + part * streets((ax, ay), (bx, by))))
-            gone += streets((ax, ay), (bx, by))
-    return min(found, default=None)
 
 
 class NearestSpot(unittest.TestCase):
